@@ -1,0 +1,1 @@
+"""Sweptfree: ways that sweep nothing, or a paper that there are none."""

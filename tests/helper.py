@@ -1,0 +1,282 @@
+"""What the tests share: samples, values of all kinds, and slow but plain second opinions."""
+
+import copy
+import re
+from fractions import Fraction
+
+SQUARE = ((0, 0), (1, 0), (1, 1), (0, 1))
+D_SCENE = (
+    ((0, 6),),
+    (("m", (((((0, 0), (1, 0), (1, 1), (0, 1))),),), (0, 1), (0, 0)),),
+    (((3, 0), (4, 0), (4, 2), (3, 2)),),
+    (), (), (),
+)
+D_TEXT = (
+    "scene {\n"
+    "limits 0 6;\n"
+    "mover m across 0 1 up 0 0 face [(0, 0) (1, 0) (1, 1) (0, 1)];\n"
+    "walls [(3, 0) (4, 0) (4, 2) (3, 2)];\n"
+    "}\n"
+)
+FULL_SCENE = (
+    ((-10, 10), (0, 6), (-3, 1000000)),
+    (
+        ("arm", ((SQUARE,), (SQUARE, ((-3, -2), (0, 0), (5, 7)))), (0, 1, 0, -2), (4, 0, 1, 0)),
+        ("mover", ((((0, 0), (0, 0), (0, 0)),),), (-7,), (0, 0)),
+    ),
+    (((3, 0), (4, 0), (4, 2), (3, 2)), ((-1, -1), (0, -1), (0, 0))),
+    (("box", (SQUARE, SQUARE), ((2, 1), (6, -1))), ("at", (((9, 9), (8, 8), (7, 7)),), ((0, 0),))),
+    ((0, 1), (1, None), (0, None)),
+    (
+        ("grip", 0, 1, 0, (2, 0), (0, -1), 3),
+        ("lay", 0, 1, (6, 0), 0),
+        ("turn", 1, 0, 2, (-5, 5), (SQUARE, ((0, 0), (3, 0), (0, 3))), 12),
+    ),
+)
+FULL_TEXT = (
+    "scene {\n"
+    "limits -10 10, 0 6, -3 1000000;\n"
+    "mover arm across 0 1 0 -2 up 4 0 1 0 face [(0, 0) (1, 0) (1, 1) (0, 1)]"
+    " face [(0, 0) (1, 0) (1, 1) (0, 1)] [(-3, -2) (0, 0) (5, 7)];\n"
+    "mover mover across -7 up 0 0 face [(0, 0) (0, 0) (0, 0)];\n"
+    "walls [(3, 0) (4, 0) (4, 2) (3, 2)] [(-1, -1) (0, -1) (0, 0)];\n"
+    "thing box [(0, 0) (1, 0) (1, 1) (0, 1)] [(0, 0) (1, 0) (1, 1) (0, 1)] at (2, 1) (6, -1);\n"
+    "thing at [(9, 9) (8, 8) (7, 7)] at (0, 0);\n"
+    "joined 0, 1;\n"
+    "joined 1;\n"
+    "joined 0;\n"
+    "grip 0 takes 1 from 0 at (2, 0) offset (0, -1) price 3;\n"
+    "lay 0 on 1 at (6, 0) price 0;\n"
+    "turn 1 from 0 to 2 at (-5, 5) room [(0, 0) (1, 0) (1, 1) (0, 1)] [(0, 0) (3, 0) (0, 3)] price 12;\n"
+    "}\n"
+)
+BARE_SCENE = (((5, -5),), (), (), (), (), ())
+BARE_TEXT = "scene {\nlimits 5 -5;\nwalls;\n}\n"
+FULL_TASK = (
+    ((1, 1), (-3, 2), (0, 1)),
+    ((0, ("held", 3), 2), (1, 0)),
+    (("thing", 0, 1), ("mover", 2, (-4, 7)), ("mover", 0, (0, 0))),
+)
+FULL_TASK_TEXT = (
+    "task {\n"
+    "start 1, -3/2, 0;\n"
+    "things 0 held 3 2;\n"
+    "faces 1 0;\n"
+    "thing 0 on 1;\n"
+    "mover 2 at (-4, 7);\n"
+    "mover 0 at (0, 0);\n"
+    "}\n"
+)
+BARE_TASK = (((7, 3),), ((), ()), ())
+BARE_TASK_TEXT = "task {\nstart 7/3;\nthings;\nfaces;\n}\n"
+
+ANYTHING = (
+    None, True, False, 0, 1, -1, 7, 10 ** 39, "", "a", "m", "held", "grip", "A1", "abcdefghijklm", "1a", "a b",
+    (), (1,), (0, 1), (1, 0), (2, 4), (-1, 1), (True, 1), (1, False), (0, 0, 0), (None, None), ("held", 0),
+    ("held", -1), ("held", True), ["held", 0], [], [0, 1], {}, {0: 1}, ((0, 0), (1, 0), (1, 1)), ((0, 0), (1, 0)),
+    ((0, 0), (1, 0), [1, 1]),
+    [(0, 0), (1, 0), (1, 1)], (((0, 0), (1, 0), (1, 1)),), ((0, 1), (1, 1)), ("grip",), ("lay", 0, 0, (0, 0), 0),
+    ("thing", 0, 0), ("mover", 0, (0, 0)), ("turn", 0, 0, 0, (0, 0), (SQUARE,), 0), ((), ()), (((),),),
+)
+FRACTIONS = ((0, 1), (1, 1), (-1, 1), (3, 2), (-3, 2), (1, 10 ** 39), (10 ** 39 + 1, 10), (-1, 10 ** 100))
+NO_FRACTIONS = (
+    (0, 2), (2, 4), (1, 0), (0, 0), (1, -1), (-2, -3), (0, -1), (True, 1), (1, True), (False, 1), (1,), (1, 2, 3), (),
+    [1, 2], {1: 2}, 1, None, "12", ("1", 2), (1, None), ((1, 1), 1), (10 ** 40, 10),
+)
+POINTS = ((0, 0), (-1, 5), (10 ** 40, 2))
+NO_POINTS = (
+    (0,), (), (0, 0, 0), [0, 0], (True, 0), (0, False), (None, 0), ("0", 0), ((0, 1), (0, 1)), 0, None, "ab",
+    {0: 0, 1: 1},
+)
+
+
+def nested(depth):
+    """A value that is nested so deep."""
+    value = 0
+    for k in range(depth):
+        value = (value,) if k % 2 else [value]
+    return value
+
+
+def all_paths(tree):
+    """All paths to parts of a tree, that to the tree itself first."""
+    paths = [()]
+    if isinstance(tree, tuple):
+        for k, part in enumerate(tree):
+            paths.extend([(k,) + path for path in all_paths(part)])
+    return paths
+
+
+def replaced(tree, path, part):
+    """The tree with another part at a path."""
+    if not path:
+        return part
+    k = path[0]
+    return tree[:k] + (replaced(tree[k], path[1:], part),) + tree[k + 1:]
+
+
+def same_twice(case, function, *args):
+    """Call a function twice, and see that it answers the same and leaves its arguments as they are."""
+    before = copy.deepcopy(args)
+    first = outcome(function, *args)
+    case.assertEqual(repr(args), repr(before))
+    case.assertEqual(repr(outcome(function, *copy.deepcopy(args))), repr(first))
+    return first
+
+
+def outcome(function, *args):
+    """What a function returns, or the class and the attributes of the error that it raises."""
+    try:
+        return function(*args)
+    except (ValueError, LookupError) as error:
+        return (type(error).__name__, vars(error))
+
+
+# The forms, as the document has them in S1.4; ABOVE stands for a NUMERAL other than 0.
+FORMS = {
+    "SCENE": "scene { limits INT INT MORE* ; MOVER* walls PIECE* ; THING* JOINED* DEED* }",
+    "MORE": ", INT INT",
+    "MOVER": "mover NAME across INT INT* up INT INT* FACE FACE* ;",
+    "FACE": "face PIECE PIECE*",
+    "THING": "thing NAME PIECE PIECE* at POINT POINT* ;",
+    "JOINED": "joined NUMERAL ; | joined NUMERAL , NUMERAL ;",
+    "DEED": "grip NUMERAL takes NUMERAL from NUMERAL at POINT offset POINT price NUMERAL ;"
+            " | lay NUMERAL on NUMERAL at POINT price NUMERAL ;"
+            " | turn NUMERAL from NUMERAL to NUMERAL at POINT room PIECE PIECE* price NUMERAL ;",
+    "TASK": "task { start FRACTION REST* ; things HOLD* ; faces NUMERAL* ; GOAL* }",
+    "REST": ", FRACTION",
+    "HOLD": "NUMERAL | held NUMERAL",
+    "GOAL": "thing NUMERAL on NUMERAL ; | mover NUMERAL at POINT ;",
+    "INT": "NUMERAL | - ABOVE",
+    "FRACTION": "INT | INT / NUMERAL",
+    "POINT": "( INT , INT )",
+    "PIECE": "[ POINT POINT POINT POINT* ]",
+}
+
+
+class Machine:
+    """A machine of states for a form, told by its text: a second opinion on where a text goes wrong."""
+
+    def __init__(self, form):
+        self.free = []
+        self.steps = []
+        self.start = self.state()
+        self.end = self.state()
+        self.build(form, self.start, self.end)
+        self.closings = [self.closing(k) for k in range(len(self.free))]
+
+    def state(self):
+        self.free.append([])
+        self.steps.append([])
+        return len(self.free) - 1
+
+    def build(self, form, start, end):
+        if form not in FORMS:
+            self.steps[start].append((form, end))
+            return
+        for choice in FORMS[form].split(" | "):
+            at = start
+            for part in choice.split():
+                after = self.state()
+                if part.endswith("*"):
+                    loop = self.state()
+                    self.free[at].append(loop)
+                    self.build(part[:-1], loop, loop)
+                    self.free[loop].append(after)
+                else:
+                    fresh = self.state()
+                    self.free[at].append(fresh)
+                    self.build(part, fresh, after)
+                at = after
+            self.free[at].append(end)
+
+    def closing(self, state):
+        found, row = {state}, [state]
+        while row:
+            for after in self.free[row.pop()]:
+                if after not in found:
+                    found.add(after)
+                    row.append(after)
+        return found
+
+    def behind(self, states, lexeme):
+        found = set()
+        for state in states:
+            for form, after in self.steps[state]:
+                if fits(form, lexeme):
+                    found |= self.closings[after]
+        return found
+
+
+def fits(form, lexeme):
+    if form == "NAME":
+        return lexeme[0].isalpha()
+    if form == "NUMERAL":
+        return lexeme[0].isdigit()
+    if form == "ABOVE":
+        return lexeme[0].isdigit() and lexeme != "0"
+    return form == lexeme
+
+
+MACHINES = {}
+LEXEME = re.compile("[a-z][a-z0-9]*|0|[1-9][0-9]*|[][{}();,/-]")
+
+
+def first_wrong_place(text, form):
+    """The first wrong place of a text by S1.5, or None if it has the form."""
+    if form not in MACHINES:
+        MACHINES[form] = Machine(form)
+    machine = MACHINES[form]
+    states = machine.closings[machine.start]
+    at = 0
+    while at < len(text):
+        if text[at] in " \n":
+            at += 1
+            continue
+        found = LEXEME.match(text, at)
+        if not found or (found[0][0].isalpha() and len(found[0]) > 12):
+            return at
+        states = machine.behind(states, found[0])
+        if not states:
+            return at
+        at = found.end()
+    return None if machine.end in states else len(text)
+
+
+def in_lexemes(text):
+    """The lexemes of a right text."""
+    return LEXEME.findall(text)
+
+
+def as_fraction(pair):
+    return Fraction(pair[0], pair[1])
+
+
+def as_pair(fraction):
+    return (fraction.numerator, fraction.denominator)
+
+
+def turn(a, b, p):
+    """The doubled area to the left of the way a, b, p, of points of any numbers."""
+    return (b[0] - a[0]) * (p[1] - a[1]) - (b[1] - a[1]) * (p[0] - a[0])
+
+
+def sides_of(corners):
+    return [(corners[k], corners[(k + 1) % len(corners)]) for k in range(len(corners))]
+
+
+class Numbers:
+    """A plain row of numbers, the same at each run."""
+
+    def __init__(self, seed):
+        self.now = seed * 7919 + 12345
+
+    def below(self, most):
+        self.now = (self.now * 6364136223846793005 + 1442695040888963407) % 2 ** 64
+        return (self.now >> 33) % most
+
+    def between(self, low, high):
+        return low + self.below(high - low + 1)
+
+    def choice(self, row):
+        return row[self.below(len(row))]

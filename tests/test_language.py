@@ -1,0 +1,161 @@
+"""What a plain test can tell of the rules of the language, and of the interface."""
+
+import ast
+import os
+import unittest
+
+FOLDER = os.path.join(os.path.dirname(os.path.dirname(os.path.abspath(__file__))), "sweptfree")
+LIBRARY = {"math": {"gcd", "lcm", "isqrt"}}
+BUILTINS = {
+    "len", "range", "enumerate", "zip", "min", "max", "sum", "abs", "sorted", "reversed", "int", "str", "bool", "list",
+    "tuple", "dict", "set", "isinstance", "ord", "repr", "any", "all", "divmod", "ValueError", "LookupError",
+}
+METHODS = {"append", "extend", "pop", "index", "get", "join", "items", "add", "count", "copy", "insert"}
+BARRED = {
+    "register", "mro", "elements", "open", "input", "law", "version_info", "compile", "eval", "exec", "exit", "globals",
+    "locals", "vars", "dir", "id", "type", "typing", "enum", "dataclass", "namedtuple", "print", "lambda", "map",
+    "hash", "next", "iter", "object", "slice", "round", "format", "filter", "super", "chr", "pow", "float", "bytes",
+}
+INTERFACE = {
+    "words": {"is_name", "is_integer", "is_fraction", "is_point"},
+    "trees": {"check_scene_tree", "check_task_tree", "part_at"},
+    "lexemes": {"lexemes"},
+    "scenetexts": {"scene_text", "shape_text", "read_scene"},
+}
+
+
+def files():
+    return sorted(name for name in os.listdir(FOLDER) if name != "__pycache__")
+
+
+def text_of(name):
+    with open(os.path.join(FOLDER, name), encoding="utf-8") as file:
+        return file.read()
+
+
+def own_names(tree):
+    return [node.name for node in tree.body if isinstance(node, (ast.FunctionDef, ast.ClassDef))]
+
+
+def bound_names(tree):
+    """All names that a file binds, wherever."""
+    for node in ast.walk(tree):
+        if isinstance(node, (ast.FunctionDef, ast.ClassDef)):
+            yield node.name
+        elif isinstance(node, ast.arg):
+            yield node.arg
+        elif isinstance(node, ast.Name) and not isinstance(node.ctx, ast.Load):
+            yield node.id
+        elif isinstance(node, ast.alias):
+            yield node.name
+
+
+class LanguageTest(unittest.TestCase):
+
+    def trees(self):
+        return [(name, ast.parse(text_of(name))) for name in files()]
+
+    def test_files_and_lines(self):
+        self.assertIn("__init__.py", files())
+        for name in files():
+            self.assertRegex(name, "^[a-z_]+[.]py$")
+            lines = text_of(name).split("\n")
+            self.assertLessEqual(len(lines), 400, name)
+            self.assertEqual(lines[-1], "", name)
+            for line in lines:
+                self.assertLessEqual(len(line), 120, name)
+                self.assertTrue(all(" " <= sign <= "~" for sign in line), (name, line))
+
+    def test_functions(self):
+        for name, tree in self.trees():
+            for node in ast.walk(tree):
+                if isinstance(node, ast.FunctionDef):
+                    self.assertLessEqual(node.end_lineno - node.lineno + 1, 40, (name, node.name))
+                    self.assertEqual(node.decorator_list, [], (name, node.name))
+
+    def test_imports(self):
+        for name, tree in self.trees():
+            own = {file[:-3] for file in files()}
+            for node in ast.walk(tree):
+                self.assertNotIsInstance(node, ast.Import, name)
+                if not isinstance(node, ast.ImportFrom):
+                    continue
+                self.assertIn(node, tree.body)
+                for alias in node.names:
+                    self.assertIsNone(alias.asname, name)
+                    if node.module in LIBRARY:
+                        self.assertIn(alias.name, LIBRARY[node.module])
+                    else:
+                        package, module = node.module.split(".")
+                        self.assertEqual(package, "sweptfree")
+                        self.assertIn(module, own)
+                        bound = [part.id for part in ast.walk(ast.parse(text_of(module + ".py")))
+                                 if isinstance(part, ast.Name) and isinstance(part.ctx, ast.Store)]
+                        self.assertIn(alias.name, own_names(ast.parse(text_of(module + ".py"))) + bound)
+
+    def test_no_ring_of_imports(self):
+        ahead = {}
+        for name, tree in self.trees():
+            ahead[name[:-3]] = {node.module.split(".")[1] for node in ast.walk(tree)
+                                if isinstance(node, ast.ImportFrom) and node.module not in LIBRARY}
+        while ahead:
+            ready = [name for name in ahead if not ahead[name] & set(ahead)]
+            self.assertTrue(ready, ahead)
+            for name in ready:
+                del ahead[name]
+
+    def test_statements_and_values(self):
+        barred = (ast.AsyncFunctionDef, ast.Global, ast.Lambda, ast.Yield, ast.Try, ast.With, ast.Div, ast.NamedExpr,
+                  ast.AnnAssign, ast.Delete, ast.Match)
+        for name, tree in self.trees():
+            for node in ast.walk(tree):
+                self.assertNotIsInstance(node, barred, name)
+                if isinstance(node, ast.Constant):
+                    self.assertIn(type(node.value), (int, str, bool, type(None)), name)
+                    self.assertNotIn("%", str(node.value), name)
+                if isinstance(node, ast.Compare):
+                    for sign, right in zip(node.ops, node.comparators):
+                        if isinstance(sign, (ast.Is, ast.IsNot)):
+                            self.assertIn(ast.unparse(right), ("None", "True", "False"), name)
+                if isinstance(node, ast.arguments):
+                    self.assertEqual((node.vararg, node.kwarg, node.kwonlyargs, node.posonlyargs), (None, None, [], []))
+
+    def test_names(self):
+        for name, tree in self.trees():
+            modulewide = own_names(tree)
+            imported = [alias.name for node in tree.body if isinstance(node, ast.ImportFrom) for alias in node.names]
+            self.assertEqual(len(set(modulewide + imported)), len(modulewide + imported), name)
+            for bound in bound_names(tree):
+                self.assertFalse(bound in BUILTINS or bound in BARRED, (name, bound))
+                self.assertFalse(bound.startswith("__") and bound != "__init__", (name, bound))
+            for node in ast.walk(tree):
+                if isinstance(node, ast.FunctionDef):
+                    local = {part.id for part in ast.walk(node)
+                             if isinstance(part, ast.Name) and isinstance(part.ctx, ast.Store)}
+                    local |= {arg.arg for arg in node.args.args}
+                    self.assertFalse(local & set(imported + modulewide), (name, node.name))
+
+    def test_calls(self):
+        for name, tree in self.trees():
+            known = set(own_names(tree)) | set(BUILTINS)
+            known |= {alias.name for node in tree.body if isinstance(node, ast.ImportFrom) for alias in node.names}
+            own_methods = {part.name for node in ast.walk(ast.parse(text_of("reading.py")))
+                           if isinstance(node, ast.ClassDef) for part in node.body if isinstance(part, ast.FunctionDef)}
+            for node in ast.walk(tree):
+                if isinstance(node, ast.Call) and isinstance(node.func, ast.Name):
+                    self.assertIn(node.func.id, known | {"fault_of", "holds"}, name)
+                elif isinstance(node, ast.Call):
+                    self.assertIn(node.func.attr, METHODS | own_methods, name)
+
+    def test_module_level_is_plain(self):
+        for name, tree in self.trees():
+            for node in tree.body[1:]:
+                self.assertIsInstance(node, (ast.ImportFrom, ast.FunctionDef, ast.ClassDef, ast.Assign), name)
+                if isinstance(node, ast.Assign):
+                    self.assertEqual(len(node.targets), 1)
+                    self.assertIsInstance(node.targets[0], ast.Name)
+                    self.assertFalse(any(isinstance(part, ast.Call) for part in ast.walk(node)))
+
+    def test_interface_is_defined_in_its_files(self):
+        for module, names in INTERFACE.items():
+            self.assertLessEqual(names, set(own_names(ast.parse(text_of(module + ".py")))), module)
