@@ -280,3 +280,87 @@ class Numbers:
 
     def choice(self, row):
         return row[self.below(len(row))]
+
+
+def area_of(corners):
+    """Twice the area within corners of any numbers, below 0 if they go round to the right."""
+    return sum(a[0] * b[1] - b[0] * a[1] for a, b in sides_of(corners))
+
+
+def common_area(corners, piece):
+    """Twice the area that any corners have in common with a piece, exactly, by cutting off edge after edge."""
+    corners = [(Fraction(x), Fraction(y)) for x, y in corners]
+    for a, b in sides_of(piece):
+        kept = []
+        for p, q in sides_of(corners):
+            at_p, at_q = turn(a, b, p), turn(a, b, q)
+            if at_p >= 0:
+                kept.append(p)
+            if at_p * at_q < 0:
+                t = at_p / (at_p - at_q)
+                kept.append((p[0] + (q[0] - p[0]) * t, p[1] + (q[1] - p[1]) * t))
+        corners = kept
+    return abs(area_of(corners))
+
+
+def place_in(piece, x, y):
+    """Where a point of any numbers is."""
+    turns = [turn(a, b, (x, y)) for a, b in sides_of(piece)]
+    return "outside" if min(turns) < 0 else "edge" if min(turns) == 0 else "inside"
+
+
+def is_right_piece(value):
+    """Whether points are a piece: another way than by sides alone, by all triples of corners."""
+    many = len(value)
+    triples = [(i, j, k) for i in range(many) for j in range(i + 1, many) for k in range(j + 1, many)]
+    return all(turn(value[i], value[j], value[k]) > 0 for i, j, k in triples) and value[0] == min(value)
+
+
+def some_piece(numbers, size, most=9):
+    """A piece within a square of so many steps to each side."""
+    while True:
+        points = [(numbers.between(-size, size), numbers.between(-size, size)) for _ in range(numbers.between(3, most))]
+        piece = slow_hull(points)
+        if piece:
+            return piece
+
+
+def slow_hull(points):
+    """The hull by going from its least corner to the one that has all others to its left, or None."""
+    points = sorted(set(points))
+    corners = points[:1]
+    while True:
+        at = corners[-1]
+        best = None
+        for p in points:
+            if p != at:
+                side = 0 if best is None else turn(at, best, p)
+                far = best is not None and side == 0 and far_from(at, p) > far_from(at, best)
+                if best is None or side < 0 or far:
+                    best = p
+        if best is None or best == corners[0]:
+            break
+        corners.append(best)
+    return tuple(corners) if len(corners) > 2 else None
+
+
+def far_from(a, b):
+    return (a[0] - b[0]) ** 2 + (a[1] - b[1]) ** 2
+
+
+def from_least(corners):
+    k = corners.index(min(corners))
+    return tuple(corners[k:] + corners[:k])
+
+
+def round_piece(many):
+    """A piece of so many corners, an even number, with its steps in all directions."""
+    steps = [(x, y) for x in range(1, 12) for y in range(-12, 12) if x + abs(y) < 14]
+    chosen = {}
+    for x, y in steps:
+        chosen.setdefault(Fraction(y, x), (x, y))
+    row = [chosen[slope] for slope in sorted(chosen)][:many // 2]
+    corners = [(0, 0)]
+    for x, y in row + [(-x, -y) for x, y in row]:
+        corners.append((corners[-1][0] + x, corners[-1][1] + y))
+    return from_least(tuple(corners[:-1]))

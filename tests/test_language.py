@@ -21,6 +21,14 @@ INTERFACE = {
     "trees": {"check_scene_tree", "check_task_tree", "part_at"},
     "lexemes": {"lexemes"},
     "scenetexts": {"scene_text", "shape_text", "read_scene"},
+    "tasktexts": {"task_text", "fraction_text", "read_task"},
+    "fractions": {"is_fraction", "made", "whole", "plus", "minus", "times", "over", "less", "sign_of", "middle",
+                  "floor_of"},
+    "pieces": {"side_of", "is_point", "check_piece", "check_shape", "where", "area_twice", "hull", "turned_about",
+               "moved", "are_apart"},
+    "rings": {"check_ring", "ring_area_twice", "where_in_ring", "triangles", "cut", "is_lean", "judge_cut"},
+    "sums": {"sum_of", "swept"},
+    "meeting": {"relation", "paper_of", "judge_paper"},
 }
 
 

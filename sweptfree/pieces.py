@@ -1,0 +1,140 @@
+"""Pieces and shapes: sides of points, what is wrong with them, where points are, hulls."""
+
+from sweptfree.errors import BadShape, Flat
+from sweptfree.fractions import integer_sign, minus, sign_of, times
+from sweptfree.words import is_integer_pair
+
+
+def side_of(a, b, p):
+    """Return the side of a point p from the line from a to b, three points of fractions."""
+    left = times(minus(b[0], a[0]), minus(p[1], a[1]))
+    right = times(minus(b[1], a[1]), minus(p[0], a[0]))
+    return sign_of(minus(left, right))
+
+
+def is_point(value):
+    """Return whether value, which may be anything, is a pair of integers."""
+    return is_integer_pair(value)
+
+
+def cross(a, b, p):
+    """Return an integer with the sign of the side of p from the line from a to b, all points of integers."""
+    return (b[0] - a[0]) * (p[1] - a[1]) - (b[1] - a[1]) * (p[0] - a[0])
+
+
+def side_from(a, b, point):
+    """Return the side of a point of fractions from the line between two points of integers."""
+    (x, x_below), (y, y_below) = point
+    left = (b[0] - a[0]) * (y - a[1] * y_below) * x_below
+    right = (b[1] - a[1]) * (x - a[0] * x_below) * y_below
+    return integer_sign(left - right)
+
+
+def edges_of(corners):
+    """Return the list of the edges, each as a pair of its ends, of a tuple or list of corners."""
+    return list(zip(corners, corners[1:] + corners[:1]))
+
+
+def check_piece(value):
+    """Raise BadShape(path, word) if value, which may be anything, is no piece."""
+    fault = piece_fault(value)
+    if fault is not None:
+        raise BadShape(fault[0], fault[1])
+
+
+def check_shape(value):
+    """Raise BadShape(path, word) if value, which may be anything, is no shape."""
+    if not isinstance(value, tuple) or len(value) < 1:
+        raise BadShape((), "form")
+    for n, piece in enumerate(value):
+        fault = piece_fault(piece)
+        if fault is not None:
+            raise BadShape((n,) + fault[0], fault[1])
+
+
+def piece_fault(value):
+    """Return the path and the word of what is wrong with what should be a piece, or None."""
+    if not isinstance(value, tuple) or len(value) < 3:
+        return ((), "form")
+    for k, corner in enumerate(value):
+        if not is_point(corner):
+            return ((k,), "form")
+    for k in range(len(value)):
+        if not all_left_of_edge(value, k):
+            return ((k,), "turn")
+    return None if value[0] == min(value) else ((), "first")
+
+
+def all_left_of_edge(corners, k):
+    """Return whether all corners but the two ends of edge k, told by their numbers, have the side 1 from it."""
+    end = (k + 1) % len(corners)
+    a, b = corners[k], corners[end]
+    return all(cross(a, b, p) > 0 for n, p in enumerate(corners) if n != k and n != end)
+
+
+def is_piece(value):
+    """Return whether value, which may be anything, is a piece."""
+    return piece_fault(value) is None
+
+
+def where(piece, point):
+    """Return "inside", "edge" or "outside" for a point of fractions."""
+    least = min(side_from(a, b, point) for a, b in edges_of(piece))
+    if least < 0:
+        return "outside"
+    return "inside" if least > 0 else "edge"
+
+
+def area_twice(piece):
+    """Return twice the area."""
+    return signed_area_twice(piece)
+
+
+def signed_area_twice(corners):
+    """Return twice the area within the corners, below 0 if they go round to the right."""
+    return sum(a[0] * b[1] - b[0] * a[1] for a, b in edges_of(corners))
+
+
+def from_least(corners):
+    """Return the tuple of the corners of a list or tuple, told from the least one on."""
+    k = corners.index(min(corners))
+    return tuple(corners[k:] + corners[:k])
+
+
+def hull(points):
+    """Return the hull of a list of points of integers; raise Flat() if they are all in one line."""
+    rows = sorted(set(points))
+    corners = lower_half(rows) + lower_half(rows[::-1])
+    if len(corners) < 3:
+        raise Flat()
+    return tuple(corners)
+
+
+def lower_half(rows):
+    """Return the hull's corners to the right of the way from the first point to the last, this one left out."""
+    corners = []
+    for p in rows:
+        while len(corners) >= 2 and cross(corners[-2], corners[-1], p) <= 0:
+            corners.pop()
+        corners.append(p)
+    return corners[:-1]
+
+
+def turned_about(piece):
+    """Return the piece turned about."""
+    return from_least([(-x, -y) for x, y in piece])
+
+
+def moved(piece, by):
+    """Return the piece moved by a point of integers."""
+    return tuple((x + by[0], y + by[1]) for x, y in piece)
+
+
+def are_apart(one, other):
+    """Return whether two pieces are apart."""
+    return has_parting_edge(one, other) or has_parting_edge(other, one)
+
+
+def has_parting_edge(one, other):
+    """Return whether no corner of the other one is to the left of some edge of the one."""
+    return any(max(cross(a, b, p) for p in other) <= 0 for a, b in edges_of(one))
