@@ -137,4 +137,7 @@ def are_apart(one, other):
 
 def has_parting_edge(one, other):
     """Return whether no corner of the other one is to the left of some edge of the one."""
-    return any(max(cross(a, b, p) for p in other) <= 0 for a, b in edges_of(one))
+    for a, b in edges_of(one):
+        if max(cross(a, b, p) for p in other) <= 0:
+            return True
+    return False

@@ -190,10 +190,8 @@ def joined_fault(value):
 
 
 def first_word(value):
-    """Return the string that a tuple begins with, or None."""
-    if isinstance(value, tuple) and len(value) > 0 and isinstance(value[0], str):
-        return value[0]
-    return None
+    """Return what a tuple begins with, or None."""
+    return value[0] if isinstance(value, tuple) and len(value) > 0 else None
 
 
 GRIP = (word_fault, number_fault, number_fault, number_fault, point_fault, point_fault, number_fault)

@@ -1,7 +1,9 @@
 """What a plain test can tell of the rules of the language, and of the interface."""
 
 import ast
+import builtins
 import os
+import re
 import unittest
 
 FOLDER = os.path.join(os.path.dirname(os.path.dirname(os.path.abspath(__file__))), "sweptfree")
@@ -12,10 +14,14 @@ BUILTINS = {
 }
 METHODS = {"append", "extend", "pop", "index", "get", "join", "items", "add", "count", "copy", "insert"}
 BARRED = {
-    "register", "mro", "elements", "open", "input", "law", "version_info", "compile", "eval", "exec", "exit", "globals",
-    "locals", "vars", "dir", "id", "type", "typing", "enum", "dataclass", "namedtuple", "print", "lambda", "map",
-    "hash", "next", "iter", "object", "slice", "round", "format", "filter", "super", "chr", "pow", "float", "bytes",
+    "register", "mro", "elements", "law", "version_info", "with_traceback", "add_note", "attrgetter", "builtins", "gc",
+    "importlib", "methodcaller", "os", "sys",
 }
+WORDS_BARRED = (
+    "type", "typing", "typing_extensions", "enum", "Enum", "IntEnum", "StrEnum", "Flag", "IntFlag", "Generic",
+    "Protocol", "ABC", "ABCMeta", "namedtuple", "NamedTuple", "TypedDict", "TYPE_CHECKING", "abstractmethod",
+    "dataclass", "overload", "contextmanager", "_wall", "_WallAttr",
+)
 INTERFACE = {
     "words": {"is_name", "is_integer", "is_fraction", "is_point"},
     "trees": {"check_scene_tree", "check_task_tree", "part_at"},
@@ -133,15 +139,20 @@ class LanguageTest(unittest.TestCase):
             modulewide = own_names(tree)
             imported = [alias.name for node in tree.body if isinstance(node, ast.ImportFrom) for alias in node.names]
             self.assertEqual(len(set(modulewide + imported)), len(modulewide + imported), name)
-            for bound in bound_names(tree):
-                self.assertFalse(bound in BUILTINS or bound in BARRED, (name, bound))
-                self.assertFalse(bound.startswith("__") and bound != "__init__", (name, bound))
+            for bound in set(bound_names(tree)) - {"__init__"}:
+                self.assertFalse(hasattr(builtins, bound) or bound in BARRED, (name, bound))
+                self.assertFalse(bound.startswith("__"), (name, bound))
             for node in ast.walk(tree):
                 if isinstance(node, ast.FunctionDef):
                     local = {part.id for part in ast.walk(node)
                              if isinstance(part, ast.Name) and isinstance(part.ctx, ast.Store)}
                     local |= {arg.arg for arg in node.args.args}
                     self.assertFalse(local & set(imported + modulewide), (name, node.name))
+
+    def test_words(self):
+        for name in files():
+            for word in WORDS_BARRED:
+                self.assertIsNone(re.search(r"\b" + word + r"\b", text_of(name)), (name, word))
 
     def test_calls(self):
         for name, tree in self.trees():

@@ -27,6 +27,14 @@ class LexemesTest(unittest.TestCase):
         self.assertEqual([row[1:] for row in lexemes("{}()[];,/-")], [(c, k) for k, c in enumerate("{}()[];,/-")])
         self.assertEqual([row[1] for row in lexemes("--/-")], ["-", "-", "/", "-"])
 
+    def test_each_letter_and_digit(self):
+        for sign in "abcdefghijklmnopqrstuvwxyz":
+            self.assertEqual(lexemes(sign + sign), [("word", sign + sign, 0)])
+            self.assertEqual(lexemes("a" + sign), [("word", "a" + sign, 0)])
+        for sign in "123456789":
+            self.assertEqual(lexemes(sign + sign), [("numeral", sign + sign, 0)])
+            self.assertEqual(lexemes("a" + sign), [("word", "a" + sign, 0)])
+
     def test_words_of_twelve_and_thirteen(self):
         self.assertEqual(lexemes("abcdefghijkl"), [("word", "abcdefghijkl", 0)])
         self.assertEqual(lexemes("a12345678901;"), [("word", "a12345678901", 0), ("sign", ";", 12)])

@@ -111,7 +111,7 @@ class MeetingTest(unittest.TestCase):
     def test_judged_form(self):
         point, line = ((1, 2), (1, 2)), (1, 1, 2)
         for value in (None, True, 3, "meet", (), ("meet",), ("meet", point, point), ["meet", point], ("meet", line),
-                      ("meet", (1, 2)), ("meet", ((2, 4), (1, 2))), ("meet", ((1, 0), (1, 2))), ("meet", [point]),
+                      ("meet", (1, 2)), ("meet", ((2, 4), (1, 2))), ("meet", ((1, 0), (1, 2))), ("meet", list(point)),
                       ("meet", ((1, 2), 1)), ("meet", ((1, 2),)), ("meet", ((1, 2), (1, 2), (1, 2))),
                       ("meets", point), ("touch", line), ("touch", point, line), ("touch", line, (1, 1)),
                       ("touch", (0, 0, 0), point), ("touch", (1, 1), point), ("touch", (1, 1, True), point),
@@ -134,7 +134,8 @@ class MeetingTest(unittest.TestCase):
     def test_judged_touch(self):
         corner = ((1, 1), (1, 1))
         for line, point, fault in (((-1, 0, -1), corner, None), ((-1, -1, -2), corner, None),
-                                   ((0, -3, -3), corner, None), ((1, 0, 1), corner, ("line",)), ((-1, 0, 0), corner, ("line",)),
+                                   ((0, -3, -3), corner, None), ((1, 0, 1), corner, ("line",)),
+                                   ((-1, 0, 0), corner, ("line",)),
                                    ((-1, -1, -3), corner, ("line",)), ((-2, -1, -3), corner, None),
                                    ((-1, 1, 0), corner, ("line",)), ((-1, -1, -2), ((1, 1), (1, 2)), ("point",)),
                                    ((-1, -1, -2), ((3, 2), (1, 1)), ("point",)),

@@ -292,6 +292,16 @@ class CutTest(unittest.TestCase):
                 for ring in (Z_RING, Z_RING[::-1], Z_RING[2:] + Z_RING[:2]):
                     self.assertEqual(same_twice(self, rings.judge_cut, ring, value), fault, value)
 
+    def test_corners_that_are_no_points_of_the_ring(self):
+        ring = ((0, 0), (4, 0), (4, 4), (0, 4))
+        fan = (((0, 0), (4, 0), (2, 4)), ((0, 0), (2, 4), (0, 4)), ((2, 4), (4, 0), (4, 4)))
+        quarters = tuple(tuple((x + dx, y + dy) for x, y in ((0, 0), (2, 0), (2, 2), (0, 2)))
+                         for dx in (0, 2) for dy in (0, 2))
+        for value in (fan, quarters):
+            for other in (ring, ring[::-1]):
+                self.assertIsNone(rings.judge_cut(other, value))
+                self.assertEqual(rings.judge_cut(other, value[1:]), ("area",))
+
     def test_judged_as_the_second_opinion(self):
         numbers = Numbers(14)
         words = {}
