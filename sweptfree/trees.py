@@ -9,7 +9,7 @@ from sweptfree.words import is_fraction, is_integer, is_name, is_point
 
 def check_scene_tree(value):
     """Raise BadTree(path) if value, which may be anything, is no scene."""
-    path = tuple_fault(value, SCENE)
+    path = scene_tree_fault(value)
     if path is not None:
         raise BadTree(path)
 
@@ -19,6 +19,11 @@ def check_task_tree(value):
     path = tuple_fault(value, TASK)
     if path is not None:
         raise BadTree(path)
+
+
+def scene_tree_fault(value):
+    """Look at what should be a scene."""
+    return tuple_fault(value, SCENE)
 
 
 def part_at(tree, path):

@@ -364,3 +364,192 @@ def round_piece(many):
     for x, y in row + [(-x, -y) for x, y in row]:
         corners.append((corners[-1][0] + x, corners[-1][1] + y))
     return from_least(tuple(corners[:-1]))
+
+
+Y_SCENE = (
+    ((0, 10), (0, 6)),
+    (("arm", ((((0, 0), (2, 0), (2, 2), (0, 2)),),), (0, 1, 0), (0, 0, 1)),),
+    (((4, 0), (6, 0), (6, 4), (4, 4)),),
+    (), (), (),
+)
+BOX = ((0, 0), (2, 0), (2, 2), (0, 2))
+WEDGE = ((0, 0), (2, 0), (0, 2))
+# An arm on a rail, joined to the walls; a hand that hangs on it; a cart below; two things; deeds of all three kinds.
+R_SCENE = (
+    ((-5, 20), (0, 8), (-3, 30)),
+    (
+        ("arm", ((((0, 0), (4, 0), (4, 1), (0, 1)),), (WEDGE, BOX)), (0, 1, 0, 0), (10, 0, 0, 0)),
+        ("hand", ((SQUARE,), (BOX,), (WEDGE, ((3, 0), (4, 0), (4, 1)))), (1, 1, 0, 0), (9, 0, -1, 0)),
+        ("cart", ((BOX, ((2, 0), (5, 0), (5, 1), (2, 1))),), (3, 0, 0, 2), (-3, 0, 0, 0)),
+    ),
+    (((-9, 11), (30, 11), (30, 12), (-9, 12)), ((8, -1), (9, -1), (9, 3), (8, 3))),
+    (
+        ("box", (SQUARE,), ((2, 1), (6, 1), (11, 3))),
+        ("rod", (((0, 0), (3, 0), (3, 1)), ((1, 2), (2, 2), (2, 5))), ((0, 0), (14, 0))),
+    ),
+    ((0, 1), (0, None)),
+    (
+        ("grip", 1, 0, 0, (2, 2), (0, -1), 3),
+        ("lay", 0, 2, (11, 4), 2),
+        ("grip", 2, 1, 1, (12, -3), (2, 3), 0),
+        ("grip", 1, 1, 0, (0, 1), (0, -1), 10 ** 6),
+        ("turn", 1, 0, 2, (5, 5), (((0, 0), (4, 0), (4, 2), (0, 2)), ((-1, -1), (0, -1), (0, 0))), 5),
+        ("lay", 2, 0, (-2, -3), 1),
+        ("turn", 0, 1, 0, (2, 10), (BOX,), 0),
+        ("grip", 2, 0, 1, (5, -3), (1, 4), 7),
+    ),
+)
+R_MODES = (
+    ((0, 0), (0, 0, 0)), ((2, 1), (1, 2, 0)), ((("held", 0), 0), (0, 1, 0)), ((1, ("held", 3)), (0, 2, 0)),
+    ((("held", 0), ("held", 2)), (1, 0, 0)), ((("held", 7), ("held", 3)), (0, 0, 0)), ((("held", 7), 1), (1, 1, 0)),
+)
+
+
+def some_shape(numbers, size, most=2):
+    return tuple(some_piece(numbers, size, 6) for _ in range(numbers.between(1, most)))
+
+
+def some_scene(numbers, sliders=None):
+    """A small scene that fits, with all kinds of parts."""
+    sliders = sliders or numbers.between(1, 3)
+    lows = [numbers.between(-6, 2) for _ in range(sliders)]
+    limits = tuple((low, low + numbers.between(1, 12)) for low in lows)
+    movers = tuple(
+        (name, tuple(some_shape(numbers, 2) for _ in range(numbers.between(1, 2))),
+         tuple(numbers.between(-2, 2) for _ in range(sliders + 1)),
+         tuple(numbers.between(-2, 2) for _ in range(sliders + 1)))
+        for name in "abc"[:numbers.between(1, 3)])
+    things = tuple(
+        (name, some_shape(numbers, 1),
+         tuple(dict.fromkeys((numbers.between(-4, 4), numbers.between(-4, 4)) for _ in range(3))))
+        for name in "tuv"[:numbers.between(0, 3)])
+    pairs = [(m, n) for m in range(len(movers)) for n in list(range(m + 1, len(movers))) + [None]]
+    joined = tuple(pair for pair in pairs if numbers.below(4) == 0)
+    walls = some_shape(numbers, 3) if numbers.below(3) else ()
+    return (limits, movers, walls, things, joined, tuple(some_deeds(numbers, movers, things)))
+
+
+def some_deeds(numbers, movers, things):
+    deeds = []
+    for k in range(numbers.between(1, 8)):
+        m = numbers.below(len(movers))
+        offset = (numbers.between(-2, 2), numbers.between(-2, 2))
+        grips = [n for n, deed in enumerate(deeds) if deed[0] == "grip"]
+        if len(movers[m][1]) > 1 and numbers.below(3) == 0:
+            face = numbers.below(2)
+            place = (numbers.between(-3, 3), numbers.between(-3, 3))
+            deeds.append(("turn", m, face, 1 - face, place, some_shape(numbers, 2), k))
+        elif grips and numbers.below(2):
+            g = numbers.choice(grips)
+            spot = numbers.below(len(things[deeds[g][2]][2]))
+            x, y = things[deeds[g][2]][2][spot]
+            deeds.append(("lay", g, spot, (x - deeds[g][5][0], y - deeds[g][5][1]), k))
+        elif things:
+            t = numbers.below(len(things))
+            spot = numbers.below(len(things[t][2]))
+            x, y = things[t][2][spot]
+            deeds.append(("grip", m, t, spot, (x - offset[0], y - offset[1]), offset, k))
+    return deeds
+
+
+def some_mode(numbers, scene):
+    """A mode, in which movers often hold things."""
+    lies, holders = [], set()
+    for t, thing in enumerate(scene[3]):
+        grips = [g for g, deed in enumerate(scene[5])
+                 if deed[0] == "grip" and deed[2] == t and deed[1] not in holders]
+        if grips and numbers.below(3):
+            g = numbers.choice(grips)
+            holders.add(scene[5][g][1])
+            lies.append(("held", g))
+        else:
+            lies.append(numbers.below(len(thing[2])))
+    return (tuple(lies), tuple(numbers.below(len(mover[1])) for mover in scene[1]))
+
+
+def some_standing(numbers, scene):
+    """A standing that is often, but not always, within the limits, and often such that bodies touch."""
+    parts = []
+    for low, high in scene[0]:
+        below = numbers.choice((1, 1, 1, 2, 2, 3))
+        parts.append(as_pair(Fraction(numbers.between((low - 1) * below, (high + 1) * below), below)))
+    return tuple(parts)
+
+
+def slow_place(scene, mode, mark, q):
+    """The point of numbers at which the body with a mark is laid at a standing of numbers."""
+    if mark[0] == 2:
+        return (Fraction(0), Fraction(0))
+    m, dx, dy = mark[1], 0, 0
+    if mark[0] == 1:
+        lie = mode[0][mark[1]]
+        if type(lie) is int:
+            x, y = scene[3][mark[1]][2][lie]
+            return (Fraction(x), Fraction(y))
+        m, (dx, dy) = scene[5][lie[1]][1], scene[5][lie[1]][5]
+    across, up = scene[1][m][2:]
+    return tuple(numbers[0] + step + sum((c * x for c, x in zip(numbers[1:], q)), Fraction(0))
+                 for numbers, step in ((across, dx), (up, dy)))
+
+
+def slow_shape(scene, mode, mark):
+    if mark[0] == 0:
+        return scene[1][mark[1]][1][mode[1][mark[1]]]
+    return scene[3][mark[1]][1] if mark[0] == 1 else scene[2]
+
+
+def slow_marks(scene):
+    return ([(0, m) for m in range(len(scene[1]))] + [(1, t) for t in range(len(scene[3]))] + [(2, 0)])
+
+
+def slow_looked_at(scene, mode):
+    """The pairs of marks that are looked at: all, less those that the document takes away."""
+    left = []
+    held = {t: scene[5][lie[1]][1] for t, lie in enumerate(mode[0]) if type(lie) is tuple}
+    marks = slow_marks(scene)
+    for one in marks:
+        for other in marks:
+            moves = [mark[0] == 0 or (mark[0] == 1 and mark[1] in held) for mark in (one, other)]
+            holds = one[0] == 0 and other[0] == 1 and held.get(other[1]) == one[1]
+            joined = one[0] == 0 and (
+                (other[0] == 0 and (one[1], other[1]) in scene[4]) or (other[0] == 2 and (one[1], None) in scene[4]))
+            if one < other and any(moves) and not holds and not joined:
+                left.append((one, other))
+    return left
+
+
+def moved_by(piece, by):
+    return tuple((x + by[0], y + by[1]) for x, y in piece)
+
+
+def laid(shape, place):
+    return [tuple((x + place[0], y + place[1]) for x, y in piece) for piece in shape]
+
+
+def slow_body_relation(some, others):
+    """How two lists of laid pieces are to each other: by the areas they share, then by corners on edges."""
+    if any(common_area(a, b) for a in some for b in others):
+        return "meet"
+    for a in some:
+        for b in others:
+            if any(place_in(b, *p) != "outside" for p in a) or any(place_in(a, *p) != "outside" for p in b):
+                return "touch"
+    return "clear"
+
+
+def numbers_of(standing):
+    return tuple(as_fraction(part) for part in standing)
+
+
+def slow_relation_at(scene, mode, standing, one, other):
+    q = numbers_of(standing)
+    return slow_body_relation(laid(slow_shape(scene, mode, one), slow_place(scene, mode, one, q)),
+                              laid(slow_shape(scene, mode, other), slow_place(scene, mode, other, q)))
+
+
+def slow_value(form, q):
+    return form[0] + sum((c * x for c, x in zip(form[1:], q)), Fraction(0))
+
+
+def sign(number):
+    return (number > 0) - (number < 0)

@@ -35,6 +35,12 @@ INTERFACE = {
     "rings": {"check_ring", "ring_area_twice", "where_in_ring", "triangles", "cut", "is_lean", "judge_cut"},
     "sums": {"sum_of", "swept"},
     "meeting": {"relation", "paper_of", "judge_paper"},
+    "shapemeeting": {"shape_relation", "first_meeting", "shape_paper", "judge_shape_paper"},
+    "leading": {"led_relation", "moment_of", "judge_moment"},
+    "scenes": {"check_scene", "is_mode", "is_standing", "many_sliders", "held_by"},
+    "places": {"place_of", "marks_of", "laid_out", "looked_at"},
+    "bars": {"made_form", "form_value", "form_sign", "bars_at", "apart_at", "contacts_of", "bars_of",
+             "contacts_between", "limit_forms", "forms_in", "place_forms", "room_bars"},
 }
 
 
