@@ -3,6 +3,7 @@
 import copy
 import re
 from fractions import Fraction
+from math import gcd
 
 SQUARE = ((0, 0), (1, 0), (1, 1), (0, 1))
 D_SCENE = (
@@ -553,3 +554,156 @@ def slow_value(form, q):
 
 def sign(number):
     return (number > 0) - (number < 0)
+
+
+def some_row(numbers, sliders, size, sorts=("over", "from", "from", "null")):
+    return (numbers.choice(sorts), tuple(numbers.between(-size, size) for _ in range(sliders + 1)))
+
+
+def some_system(numbers, most=8):
+    """A system of a few rows, and its number of sliders; the numbers are mostly small."""
+    sliders = numbers.between(1, 3)
+    size = numbers.choice((1, 2, 2, 5, 10 ** 20))
+    sorts = numbers.choice((("over", "from"), ("from",), ("over", "from", "from", "from", "null"), ("over",)))
+    return [some_row(numbers, sliders, size, sorts) for _ in range(numbers.between(0, most))], sliders
+
+
+def slow_keeps(rows, point):
+    """Whether a point of numbers keeps all rows."""
+    for sort, form in rows:
+        value = slow_value(form, point)
+        if not (value > 0 if sort == "over" else value >= 0 if sort == "from" else value == 0):
+            return False
+    return True
+
+
+def slow_never_fault(rows, numbers):
+    """The first fault of a tuple of as many integers as there are rows, by the words of S5.2."""
+    for k, (sort, _) in enumerate(rows):
+        if sort != "null" and numbers[k] < 0:
+            return ("sign", k)
+    many = max([len(form) for _, form in rows], default=1)
+    total = [sum(number * form[k] for number, (_, form) in zip(numbers, rows)) for k in range(many)]
+    if any(total[1:]):
+        return ("sum",)
+    counts = any(number > 0 and sort == "over" for number, (sort, _) in zip(numbers, rows))
+    return None if total[0] < 0 or (total[0] == 0 and counts) else ("number",)
+
+
+def surely_has_point(rows, sliders):
+    """Whether a system has a point, by what solve tells, which is looked through here."""
+    from sweptfree.systems import solve
+    word, told = solve(rows, sliders)
+    assert type(told) is tuple
+    if word == "point":
+        assert len(told) == sliders and slow_keeps(rows, [as_fraction(x) for x in told]), (rows, told)
+        assert all(as_pair(as_fraction(x)) == x for x in told)
+        return True
+    assert word == "never" and len(told) == len(rows) and all(type(n) is int for n in told)
+    assert slow_never_fault(rows, told) is None, (rows, told)
+    return False
+
+
+E_FRAME = (((0, 4), (0, 4)), ((-4, 0, 1), (-4, 1, 0), (-4, 1, 1), (0, 0, 1), (0, 1, 0)))
+
+
+def frame_with(limits, forms):
+    """A frame with such limits and forms, put together here."""
+    told = set(forms)
+    for k, (low, high) in enumerate(limits):
+        for n in (low, high):
+            told.add((-n,) + tuple(int(j == k) for j in range(len(limits))))
+    return (limits, tuple(sorted(told)))
+
+
+def some_form(numbers, sliders, size):
+    """A form with rather small numbers, in its one shape."""
+    while True:
+        row = [numbers.between(-size, size) for _ in range(sliders + 1)]
+        first = [n for n in row[1:] if n]
+        if first:
+            divisor = gcd(*row) * sign(first[0])
+            return tuple(n // divisor for n in row)
+
+
+def some_frame(numbers, most=(9, 8, 4)):
+    """A small frame of one to three sliders."""
+    sliders = numbers.between(1, 3)
+    lows = [numbers.between(-4, 0) for _ in range(sliders)]
+    limits = tuple((low, low + numbers.between(1, 6)) for low in lows)
+    size = numbers.choice((1, 2, 4))
+    return frame_with(limits, [some_form(numbers, sliders, size) for _ in range(numbers.between(0, most[sliders - 1]))])
+
+
+def upright_frame(sliders, many):
+    """A frame of so many upright forms, as evenly for each slider as can be."""
+    limits = ((0, 100),) * sliders
+    forms = []
+    for k in range(many - 2 * sliders):
+        forms.append((-k - 1,) + tuple(int(j == k % sliders) for j in range(sliders)))
+    return frame_with(limits, forms)
+
+
+def slow_signs(frame, q):
+    return tuple(sign(slow_value(form, q)) for form in frame[1])
+
+
+def rows_of_signs(frame, signs):
+    """The system that asks of a point to have a row of signs, as far as it goes, and to be within the limits."""
+    rows = []
+    for k, (low, high) in enumerate(frame[0]):
+        step = tuple(int(j == k) for j in range(len(frame[0])))
+        rows.append(("from", (-low,) + step))
+        rows.append(("from", (high,) + tuple(-n for n in step)))
+    for form, told in zip(frame[1], signs):
+        rows.append(("null", form) if told == 0 else ("over", tuple(told * n for n in form)))
+    return rows
+
+
+def slow_cells(frame):
+    """All cells, ascending: row by row of signs, each looked for by a point or by multipliers."""
+    found = [()]
+    for _ in frame[1]:
+        found = [signs + (n,) for signs in found for n in (-1, 0, 1)
+                 if surely_has_point(rows_of_signs(frame, signs + (n,)), len(frame[0]))]
+    return found
+
+
+def slow_rank(rows, many):
+    """The rank of rows of so many numbers, by fractions."""
+    rows = [[Fraction(n) for n in row] for row in rows]
+    found = 0
+    for k in range(many):
+        heads = [row for row in rows if row[k]]
+        if heads:
+            head = heads[0]
+            found += 1
+            rows = [[n - row[k] / head[k] * m for n, m in zip(row, head)] for row in rows if row is not head]
+    return found
+
+
+def slow_cell_dimension(frame, signs):
+    many = len(frame[0])
+    return many - slow_rank([form[1:] for form, n in zip(frame[1], signs) if n == 0], many)
+
+
+def slow_underlies(one, other):
+    return all(a in (0, b) for a, b in zip(one, other))
+
+
+def slow_beside(frame, cells):
+    """For each cell the ascending lists of its faces and of its cofaces."""
+    dimensions = {cell: slow_cell_dimension(frame, cell) for cell in cells}
+    beside = {cell: ([], []) for cell in cells}
+    for one in cells:
+        for other in cells:
+            if dimensions[one] == dimensions[other] - 1 and slow_underlies(one, other):
+                beside[one][1].append(other)
+                beside[other][0].append(one)
+    return beside
+
+
+def some_shape_of(form):
+    """A form in its one shape."""
+    divisor = gcd(*form) * sign([n for n in form[1:] if n][0])
+    return tuple(n // divisor for n in form)

@@ -41,6 +41,12 @@ INTERFACE = {
     "places": {"place_of", "marks_of", "laid_out", "looked_at"},
     "bars": {"made_form", "form_value", "form_sign", "bars_at", "apart_at", "contacts_of", "bars_of",
              "contacts_between", "limit_forms", "forms_in", "place_forms", "room_bars"},
+    "free": {"is_within", "is_free", "is_clear", "meeting", "touching"},
+    "systems": {"value_at", "keeps", "gone", "solve", "judge_never"},
+    "bounds": {"extent", "follows", "bounding", "rank_of", "dimension"},
+    "frames": {"check_frame", "frame_of", "signs_at", "is_within"},
+    "cells": {"point_in", "dimension", "underlies", "all_cells", "faces", "cofaces"},
+    "rooms": {"bars_row", "apart_row", "free_row", "clear_row", "parts", "clear_parts", "way_of_cells"},
 }
 
 

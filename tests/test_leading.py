@@ -68,6 +68,14 @@ class LeadingTest(unittest.TestCase):
                              "touch" if x == 0 else "clear")
         self.assertEqual(self.check(SQUARE, SQUARE, place_of(-10, 10), (18, -18)), "meet")
 
+    def test_small_steps(self):
+        """Each edge of the sum is as short as can be, and so is the step: a led one leaves, or comes, soon."""
+        small = ((0, 0), (1, 0), (0, 1))
+        for by in ((1, 0), (-1, 0), (0, 1), (0, -1), (1, -1), (-1, 1), (1, 1), (-1, -1)):
+            for x in range(-8, 9):
+                for y in range(-8, 9):
+                    self.check(small, small, place_of(Fraction(x, 4), Fraction(y, 4)), by)
+
     def test_as_the_second_opinion(self):
         numbers = Numbers(51)
         seen = {}
