@@ -98,11 +98,12 @@ def reached(beside, start):
     row = [start]
     at = 0
     while at < len(row):
-        for other in beside[row[at]]:
-            if other not in ahead:
-                ahead[other] = row[at]
-                row.append(other)
+        cell = row[at]
         at += 1
+        for other in beside[cell]:
+            if other not in ahead:
+                ahead[other] = cell
+                row.append(other)
     return ahead
 
 
