@@ -3,7 +3,7 @@
 Each is a tuple of integers: c0, and one number for each slider behind it.
 """
 
-from math import gcd
+from math import gcd, lcm
 
 from sweptfree.fractions import integer_sign, made
 from sweptfree.words import is_integer
@@ -26,6 +26,19 @@ def value_parts(form, standing):
     for number, (a, b) in zip(form[1:], standing):
         above, below = above * b + number * a * below, below * b
     return above, below
+
+
+def in_parts(standing):
+    """Return a standing in integers: how many parts make 1, and how many of these each fraction is."""
+    many = 1
+    for _, below in standing:
+        many = lcm(many, below)
+    return (many,) + tuple([above * (many // below) for above, below in standing])
+
+
+def value_in_parts(form, point):
+    """Return the value of a form at a standing that is told in parts, itself in parts."""
+    return sum([n * x for n, x in zip(form, point)])
 
 
 def lowered(numbers):

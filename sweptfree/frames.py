@@ -2,7 +2,7 @@
 
 from sweptfree.errors import BadFrame, TooGreat
 from sweptfree.forms import is_form, is_in_limits, limit_pairs, sign_at
-from sweptfree.words import is_integer_pair
+from sweptfree.words import is_integer, is_integer_pair
 
 MOST_FORMS = (60, 40, 24)
 MOST_SLANTED = 10
@@ -50,6 +50,13 @@ def frame_of(limits, forms):
 def signs_at(frame, standing):
     """Return the row of signs that a standing has, also outside of the limits."""
     return tuple([sign_at(form, standing) for form in frame[1]])
+
+
+def is_row_of_signs(frame, value):
+    """Return whether value, which may be anything, is a tuple with -1, 0 or 1 for each form of a frame."""
+    if not isinstance(value, tuple) or len(value) != len(frame[1]):
+        return False
+    return all(is_integer(n) and -1 <= n <= 1 for n in value)
 
 
 def is_within(frame, standing):

@@ -707,3 +707,183 @@ def some_shape_of(form):
     """A form in its one shape."""
     divisor = gcd(*form) * sign([n for n in form[1:] if n][0])
     return tuple(n // divisor for n in form)
+
+
+def some_contacts(numbers, frame, most):
+    """Contacts whose forms are in a frame, perhaps with a form on both sides, perhaps ()."""
+    rows = []
+    for _ in range(numbers.between(0, most)):
+        pairs = {(numbers.choice(frame[1]), numbers.choice((-1, 1))) for _ in range(numbers.between(1, 4))}
+        rows.append(tuple(sorted(pairs)))
+    if numbers.below(12) == 0:
+        rows.append(())
+    return rows
+
+
+def parting_contacts(numbers, frame):
+    """Contacts that bar a cell each, and what is around it: so the room often falls apart."""
+    from sweptfree.cells import all_cells
+    rows = []
+    cells = all_cells(frame)
+    for _ in range(numbers.between(1, 9)):
+        signs = slow_signs_of(frame, numbers.choice(cells))
+        pairs = [(form, signs[form]) for form in signs if signs[form] and numbers.below(3)]
+        rows.append(tuple(sorted(pairs)))
+    return [row for row in rows if row]
+
+
+def slow_signs_of(frame, signs):
+    return dict(zip(frame[1], signs))
+
+
+def slow_bars(frame, contact, signs):
+    told = slow_signs_of(frame, signs)
+    return [told[form] for form, _ in contact] == [side for _, side in contact]
+
+
+def slow_apart(frame, contact, signs):
+    told = slow_signs_of(frame, signs)
+    return 0 in [told[form] + side for form, side in contact]
+
+
+def slow_lots(frame, cells):
+    """The lots of cells, by putting them together as long as two are beside each other."""
+    beside = slow_beside(frame, cells)
+    number = {cell: k for k, cell in enumerate(cells)}
+    changes = True
+    while changes:
+        changes = False
+        for cell in cells:
+            for other in beside[cell][1]:
+                least = min(number[cell], number[other])
+                if number[cell] != least or number[other] != least:
+                    number[cell] = number[other] = least
+                    changes = True
+    return sorted(tuple(cell for cell in cells if number[cell] == k) for k in set(number.values()))
+
+
+def slow_slack(contact, q):
+    """The slack of a contact other than () at a standing of numbers."""
+    return max(-side * slow_value(form, q) for form, side in contact)
+
+
+def turning_moments(contact, q, r):
+    """0, 1, and all moments of a leg at which a pair is nought, or two pairs are equal, ascending."""
+    first, last = numbers_of(q), numbers_of(r)
+    lines = [(-side * slow_value(form, first), -side * slow_value(form, last)) for form, side in contact]
+    moments = {Fraction(0), Fraction(1)}
+    for a, b in lines:
+        for c, d in lines + [(0, 0)]:
+            if b - a != d - c:
+                moments.add(Fraction(c - a) / (b - a - d + c))
+    return sorted(t for t in moments if 0 <= t <= 1)
+
+
+def some_contact(numbers, sliders):
+    """A contact of a few pairs with small forms, now and then ()."""
+    pairs = {(some_form(numbers, sliders, numbers.choice((1, 3))), numbers.choice((-1, 1)))
+             for _ in range(numbers.choice((0, 1, 2, 3, 4, 5, 6)))}
+    return tuple(sorted(pairs))
+
+
+def near_standing(numbers, sliders, size=4):
+    """A standing not far from nought."""
+    return tuple(as_pair(Fraction(numbers.between(-2 * size, 2 * size), numbers.choice((1, 2, 2, 3))))
+                 for _ in range(sliders))
+
+
+# The scene Z of part 8, without its wall and with it.
+Z_SCENE = (
+    ((0, 8),), (("m", ((SQUARE,),), (0, 1), (0, 0)),), (), (("t", (SQUARE,), ((2, 1), (6, 1))),), (),
+    (("grip", 0, 0, 0, (2, 0), (0, 1), 3), ("lay", 0, 1, (6, 0), 2)),
+)
+Z_WALLED = replaced(Z_SCENE, (2,), (((4, 1), (5, 1), (5, 2), (4, 2)),))
+Z_TASK = (((1, 1),), ((0,), (0,)), (("thing", 0, 1),))
+Z_PLAN = (("go", ((2, 1),)), ("deed", 0), ("go", ((6, 1),)), ("deed", 1))
+
+
+def slow_is_free(scene, mode, standing):
+    """Whether a standing is free, by areas."""
+    if not all(low <= x <= high for (low, high), x in zip(scene[0], numbers_of(standing))):
+        return False
+    return all(slow_relation_at(scene, mode, standing, *pair) != "meet" for pair in slow_looked_at(scene, mode))
+
+
+def slow_mode_behind(scene, mode, number):
+    """The mode behind a deed, or None, by the words of S8.2."""
+    deed = scene[5][number]
+    lies, faces = list(mode[0]), list(mode[1])
+    holders = [scene[5][lie[1]][1] for lie in lies if type(lie) is tuple]
+    if deed[0] == "lay":
+        t = scene[5][deed[1]][2]
+        if lies[t] != ("held", deed[1]):
+            return None
+        lies[t] = deed[2]
+    elif deed[0] == "grip":
+        if lies[deed[2]] != deed[3] or deed[1] in holders:
+            return None
+        lies[deed[2]] = ("held", number)
+    else:
+        if faces[deed[1]] != deed[2] or deed[1] in holders:
+            return None
+        faces[deed[1]] = deed[3]
+    return (tuple(lies), tuple(faces))
+
+
+def slow_stands(scene, mover, point, standing):
+    """Whether a mover is at a point at a standing."""
+    across, up = scene[1][mover][2:]
+    q = numbers_of(standing)
+    return tuple(c[0] + sum((n * x for n, x in zip(c[1:], q)), Fraction(0)) for c in (across, up)) == point
+
+
+def slow_room_is_empty(scene, mode, standing, deed):
+    """Whether no body that counts meets the room of a turn."""
+    _, m, _, _, place, room, _ = deed
+    q = numbers_of(standing)
+    for mark in slow_marks(scene):
+        if mark[0] == 0 and (mark[1] == m or tuple(sorted((m, mark[1]))) in scene[4]):
+            continue
+        if mark[0] == 2 and (m, None) in scene[4]:
+            continue
+        other = laid(slow_shape(scene, mode, mark), slow_place(scene, mode, mark, q))
+        if slow_body_relation(laid(room, place), other) == "meet":
+            return False
+    return True
+
+
+def slow_deed_word(scene, mode, standing, number):
+    """The word with which a deed cannot be done, by areas, or None."""
+    deed = scene[5][number]
+    behind = slow_mode_behind(scene, mode, number)
+    if behind is None:
+        return "mode"
+    mover, place = (scene[5][deed[1]][1], deed[3]) if deed[0] == "lay" else (deed[1], deed[4])
+    if not slow_stands(scene, mover, place, standing):
+        return "place"
+    if not slow_is_free(scene, mode, standing):
+        return "free"
+    if not slow_is_free(scene, behind, standing):
+        return "behind"
+    if deed[0] == "turn" and not slow_room_is_empty(scene, mode, standing, deed):
+        return "room"
+    return None
+
+
+def standing_for(numbers, scene, number):
+    """A standing at which the mover of a deed stands at its place, if a small search finds one, or any standing."""
+    deed = scene[5][number]
+    mover, place = (scene[5][deed[1]][1], deed[3]) if deed[0] == "lay" else (deed[1], deed[4])
+    for _ in range(60):
+        standing = some_standing(numbers, scene)
+        if slow_stands(scene, mover, place, standing):
+            return standing
+    return some_standing(numbers, scene)
+
+
+def some_goal(numbers, scene):
+    """A goal of either sort, often one that is met."""
+    if scene[3] and numbers.below(2):
+        t = numbers.below(len(scene[3]))
+        return ("thing", t, numbers.below(len(scene[3][t][2])))
+    return ("mover", numbers.below(len(scene[1])), (numbers.between(-2, 2), numbers.between(-2, 2)))

@@ -47,6 +47,11 @@ INTERFACE = {
     "frames": {"check_frame", "frame_of", "signs_at", "is_within"},
     "cells": {"point_in", "dimension", "underlies", "all_cells", "faces", "cofaces"},
     "rooms": {"bars_row", "apart_row", "free_row", "clear_row", "parts", "clear_parts", "way_of_cells"},
+    "closedlists": {"closed_list", "judge_closed"},
+    "legs": {"slack_at", "standing_at", "span", "slack_on", "leg_fault", "is_clear_leg"},
+    "ways": {"judge_way", "is_clear_way", "is_lean_way", "made_lean"},
+    "turns": {"stretch_on", "paces_of", "is_in_turns", "in_turns"},
+    "tasks": {"check_task", "mode_behind", "deed_word", "unmet", "mode_numbers", "modes_of"},
 }
 
 

@@ -15,58 +15,6 @@ DIAGONAL = (((-4, 1, 1), 1),)
 BAND = (((-4, 1, 1), -1), ((0, 0, 1), 1))
 
 
-def some_contacts(numbers, frame, most):
-    """Contacts whose forms are in a frame, perhaps with a form on both sides, perhaps ()."""
-    rows = []
-    for _ in range(numbers.between(0, most)):
-        pairs = {(numbers.choice(frame[1]), numbers.choice((-1, 1))) for _ in range(numbers.between(1, 4))}
-        rows.append(tuple(sorted(pairs)))
-    if numbers.below(12) == 0:
-        rows.append(())
-    return rows
-
-
-def parting_contacts(numbers, frame):
-    """Contacts that bar a cell each, and what is around it: so the room often falls apart."""
-    rows = []
-    cells = all_cells(frame)
-    for _ in range(numbers.between(1, 9)):
-        signs = slow_signs_of(frame, numbers.choice(cells))
-        pairs = [(form, signs[form]) for form in signs if signs[form] and numbers.below(3)]
-        rows.append(tuple(sorted(pairs)))
-    return [row for row in rows if row]
-
-
-def slow_signs_of(frame, signs):
-    return dict(zip(frame[1], signs))
-
-
-def slow_bars(frame, contact, signs):
-    told = slow_signs_of(frame, signs)
-    return [told[form] for form, _ in contact] == [side for _, side in contact]
-
-
-def slow_apart(frame, contact, signs):
-    told = slow_signs_of(frame, signs)
-    return 0 in [told[form] + side for form, side in contact]
-
-
-def slow_lots(frame, cells):
-    """The lots of cells, by putting them together as long as two are beside each other."""
-    beside = helper.slow_beside(frame, cells)
-    number = {cell: k for k, cell in enumerate(cells)}
-    changes = True
-    while changes:
-        changes = False
-        for cell in cells:
-            for other in beside[cell][1]:
-                least = min(number[cell], number[other])
-                if number[cell] != least or number[other] != least:
-                    number[cell] = number[other] = least
-                    changes = True
-    return sorted(tuple(cell for cell in cells if number[cell] == k) for k in set(number.values()))
-
-
 class RowsTest(unittest.TestCase):
 
     def test_told(self):
@@ -90,15 +38,15 @@ class RowsTest(unittest.TestCase):
         numbers = Numbers(141)
         for _ in range(300):
             frame = helper.some_frame(numbers)
-            contacts = some_contacts(numbers, frame, 5)
+            contacts = helper.some_contacts(numbers, frame, 5)
             signs = tuple(numbers.between(-1, 1) for _ in frame[1])
             for contact in contacts:
-                self.assertIs(rooms.bars_row(frame, contact, signs), slow_bars(frame, contact, signs))
-                self.assertIs(rooms.apart_row(frame, contact, signs), slow_apart(frame, contact, signs))
+                self.assertIs(rooms.bars_row(frame, contact, signs), helper.slow_bars(frame, contact, signs))
+                self.assertIs(rooms.apart_row(frame, contact, signs), helper.slow_apart(frame, contact, signs))
             self.assertIs(rooms.free_row(frame, contacts, signs),
-                          not [contact for contact in contacts if slow_bars(frame, contact, signs)])
+                          not [contact for contact in contacts if helper.slow_bars(frame, contact, signs)])
             self.assertIs(rooms.clear_row(frame, contacts, signs),
-                          not [contact for contact in contacts if not slow_apart(frame, contact, signs)])
+                          not [contact for contact in contacts if not helper.slow_apart(frame, contact, signs)])
 
     def test_all_rows_of_a_small_frame(self):
         frame = frame_with(((0, 5),), [(-2, 1)])
@@ -131,7 +79,7 @@ class PartsTest(unittest.TestCase):
         for function, holds in ((rooms.parts, rooms.free_row), (rooms.clear_parts, rooms.clear_row)):
             found = same_twice(self, function, frame, contacts)
             self.assertIs(type(found), list)
-            self.assertEqual(found, slow_lots(frame, [cell for cell in cells if holds(frame, contacts, cell)]))
+            self.assertEqual(found, helper.slow_lots(frame, [cell for cell in cells if holds(frame, contacts, cell)]))
             self.assertEqual(function(frame, tuple(contacts)), found)
             told.append(found)
         return told
@@ -168,7 +116,7 @@ class PartsTest(unittest.TestCase):
         seen = {}
         for _ in range(80):
             frame = helper.some_frame(numbers, (9, 6, 3))
-            for contacts in (some_contacts(numbers, frame, 6), parting_contacts(numbers, frame)):
+            for contacts in (helper.some_contacts(numbers, frame, 6), helper.parting_contacts(numbers, frame)):
                 free = self.check(frame, contacts)[0]
                 seen[len(free)] = seen.get(len(free), 0) + 1
         self.assertGreaterEqual(len(seen), 4, seen)
@@ -220,7 +168,7 @@ class WayTest(unittest.TestCase):
         seen = {True: 0, False: 0}
         for _ in range(150):
             frame = helper.some_frame(numbers, (9, 5, 3))
-            contacts = parting_contacts(numbers, frame)
+            contacts = helper.parting_contacts(numbers, frame)
             parts = rooms.parts(frame, contacts)
             free = [cell for part in parts for cell in part]
             if free:
