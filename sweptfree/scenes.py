@@ -11,11 +11,15 @@ from sweptfree.words import is_fraction
 
 def check_scene(value):
     """Raise BadScene(path) if value, which may be anything, is no scene that fits."""
-    path = scene_tree_fault(value)
-    if path is None:
-        path = misfit(value)
+    path = scene_fault(value)
     if path is not None:
         raise BadScene(path)
+
+
+def scene_fault(value):
+    """Return the path of the first wrong part of what should be a scene that fits, or None."""
+    path = scene_tree_fault(value)
+    return misfit(value) if path is None else path
 
 
 def misfit(scene):

@@ -887,3 +887,185 @@ def some_goal(numbers, scene):
         t = numbers.below(len(scene[3]))
         return ("thing", t, numbers.below(len(scene[3][t][2])))
     return ("mover", numbers.below(len(scene[1])), (numbers.between(-2, 2), numbers.between(-2, 2)))
+
+
+def some_rail_scene(numbers, sliders=None):
+    """A scene of movers on rails that can carry things and turn, so that there is often a way to do something."""
+    sliders = sliders or numbers.choice((1, 1, 1, 2))
+    width = numbers.between(4, 9)
+    tall = (((0, 0), (1, 0), (1, 2), (0, 2)),)
+    faces = numbers.choice((((SQUARE,),), ((SQUARE,), tall), ((SQUARE,), (BOX,))))
+    rest = (0,) * (sliders - 1)
+    movers = [("m", faces, (0, 1) + rest, (0, 0) + (numbers.below(2),) * (sliders - 1))]
+    if numbers.below(3) == 0:
+        movers.append(("n", ((SQUARE,),), (numbers.between(-3, 3), numbers.choice((-1, 1))) + rest,
+                       (numbers.between(-1, 2),) + (0,) + (numbers.below(2),) * (sliders - 1)))
+    things, deeds = [], []
+    for t in range(numbers.choice((1, 1, 2))):
+        height = numbers.between(1, 2)
+        spots = tuple(dict.fromkeys((numbers.between(0, width), height) for _ in range(numbers.between(1, 3))))
+        things.append(("tu"[t], (SQUARE,), spots))
+        for k, (x, y) in enumerate(spots):
+            g = len(deeds)
+            offset = (0, numbers.choice((y, y, 1)))
+            deeds.append(("grip", 0, t, k, (x, y - offset[1]), offset, numbers.below(4)))
+            for late, (u, v) in enumerate(spots):
+                if late != k and numbers.below(4):
+                    deeds.append(("lay", g, late, (u, v - offset[1]), numbers.below(4)))
+    for face in range(len(faces)):
+        if len(faces) == 2:
+            deeds.append(("turn", 0, face, 1 - face, (numbers.between(0, width), 0), (BOX,), numbers.below(4)))
+    walls = []
+    if numbers.below(3):
+        x, y = numbers.between(0, width), numbers.choice((1, 2, 2, 3))
+        walls.append(((x, y), (x + 1, y), (x + 1, y + 1), (x, y + 1)))
+    limits = ((0, width),) + ((0, 2),) * (sliders - 1)
+    joined = ((0, 1),) if len(movers) == 2 and numbers.below(2) else ()
+    return (limits, tuple(movers), tuple(walls), tuple(things), joined, tuple(deeds))
+
+
+def some_rail_task(numbers, scene):
+    """A task of such a scene that is free at its start, or None if none is found."""
+    for _ in range(8):
+        start = tuple(as_pair(Fraction(numbers.between(low * 2, high * 2), 2)) for low, high in scene[0])
+        mode = ((0,) * len(scene[3]), (0,) * len(scene[1]))
+        if slow_is_free(scene, mode, start):
+            t = numbers.below(len(scene[3]))
+            goals = [("thing", t, numbers.below(len(scene[3][t][2])))]
+            if numbers.below(3) == 0:
+                goals.append(("mover", 0, (numbers.between(0, scene[0][0][1]), numbers.choice((0, 0, 0, 1)))))
+            return (start, mode, tuple(goals[numbers.below(2):] if len(goals) == 2 else goals))
+    return None
+
+
+def rail_tasks(seed, many, sliders=None):
+    """A list of pairs (scene, task) that are not too great."""
+    from sweptfree.errors import TooGreat
+    from sweptfree.frames import refuse_too_great
+    from sweptfree.nodes import task_frame
+    numbers = Numbers(seed)
+    found = []
+    while len(found) < many:
+        scene = some_rail_scene(numbers, sliders)
+        task = some_rail_task(numbers, scene)
+        if task is not None:
+            try:
+                refuse_too_great(task_frame(scene, task))
+                found.append((scene, task))
+            except TooGreat:
+                pass
+    return found
+
+
+def slow_modes(scene, mode):
+    """The set of all modes behind deeds."""
+    found = {mode}
+    while True:
+        behind = {slow_mode_behind(scene, one, n) for one in found for n in range(len(scene[5]))} - {None}
+        if behind <= found:
+            return found
+        found |= behind
+
+
+def slow_task_frame(scene, task):
+    """The frame of a task by the words of S8.4."""
+    from sweptfree.bars import bars_of, place_forms, room_bars
+    forms = set()
+    places = [(goal[1], goal[2]) for goal in task[2] if goal[0] == "mover"]
+    for mode in slow_modes(scene, task[1]):
+        contacts = bars_of(scene, mode)
+        for n, deed in enumerate(scene[5]):
+            if slow_mode_behind(scene, mode, n) is not None:
+                places.append((scene[5][deed[1]][1], deed[3]) if deed[0] == "lay" else (deed[1], deed[4]))
+                if deed[0] == "turn":
+                    contacts = contacts + room_bars(scene, mode, n)
+        forms |= {form for contact in contacts for form, _ in contact}
+    for mover, point in places:
+        forms |= set(place_forms(scene, mover, point) or [])
+    return frame_with(scene[0], forms)
+
+
+class SlowNodes:
+    """All nodes of a task, and all moves, told by standings: what can be done at one that has the node."""
+
+    def __init__(self, scene, task):
+        from sweptfree.cells import all_cells, point_in
+        self.scene, self.task = scene, task
+        self.frame = slow_task_frame(scene, task)
+        self.cells = all_cells(self.frame)
+        self.points = {cell: point_in(self.frame, cell) for cell in self.cells}
+        self.beside = slow_beside(self.frame, self.cells)
+        self.modes = sorted(slow_modes(scene, task[1]), key=lambda mode: self.numbers(mode))
+        self.order = {mode: k for k, mode in enumerate(self.modes)}
+        self.free = {}
+        self.start = (task[1], slow_signs(self.frame, numbers_of(task[0])))
+
+    def numbers(self, mode):
+        lies = [lie if type(lie) is int else len(thing[2]) + lie[1] for lie, thing in zip(mode[0], self.scene[3])]
+        return lies + list(mode[1])
+
+    def is_node(self, node):
+        if node not in self.free:
+            mode, cell = node
+            self.free[node] = cell in self.points and slow_is_free(self.scene, mode, self.points[cell])
+        return self.free[node]
+
+    def moves(self, node):
+        """The list of the moves (node, price, deed) from a node."""
+        mode, cell = node
+        found = [((mode, other), 0, None) for lot in self.beside[cell] for other in lot if self.is_node((mode, other))]
+        for n in range(len(self.scene[5])):
+            if slow_deed_word(self.scene, mode, self.points[cell], n) is None:
+                found.append(((slow_mode_behind(self.scene, mode, n), cell), self.scene[5][n][-1], n))
+        return found
+
+    def sort(self, nodes):
+        return sorted(nodes, key=lambda node: (self.order[node[0]], node[1]))
+
+    def next_to(self, node):
+        return self.sort({other for other, _, _ in self.moves(node)})
+
+    def is_goal(self, node):
+        mode, cell = node
+        for word, number, aim in self.task[2]:
+            if word == "thing" and mode[0][number] != aim:
+                return False
+            if word == "mover" and not slow_stands(self.scene, number, aim, self.points[cell]):
+                return False
+        return True
+
+    def least(self, price_of=lambda deed, price: price):
+        """For each node to which one comes its least price, by going over all moves until nothing changes."""
+        least = {self.start: 0}
+        row = [self.start]
+        while row:
+            node = row.pop(0)
+            for other, price, deed in self.moves_once(node):
+                price = price if deed is None else price_of(deed, price)
+                if price is not None and least[node] + price < least.get(other, least[node] + price + 1):
+                    least[other] = least[node] + price
+                    row.append(other)
+        return least
+
+    def moves_once(self, node):
+        if not hasattr(self, "known"):
+            self.known = {}
+        if node not in self.known:
+            self.known[node] = self.moves(node)
+        return self.known[node]
+
+    def price(self, price_of=lambda deed, price: price):
+        """The least price of all goal nodes to which one comes, or None."""
+        least = self.least(price_of)
+        return min([least[node] for node in least if self.is_goal(node)], default=None)
+
+
+# A rail on which a small mover can become a tall one at 3 alone, where the room is free if t is away.
+TURN_SCENE = (
+    ((0, 6),), (("m", ((SQUARE,), (((0, 0), (1, 0), (1, 2), (0, 2)),)), (0, 1), (0, 0)),),
+    (((5, 1), (6, 1), (6, 2), (5, 2)),), (("t", (SQUARE,), ((3, 1), (1, 1), (0, 5))),), (),
+    (("turn", 0, 0, 1, (3, 0), (((0, 0), (1, 0), (1, 2), (0, 2)),), 2), ("turn", 0, 1, 0, (3, 0), (SQUARE,), 1),
+     ("grip", 0, 0, 0, (3, 0), (0, 1), 4), ("lay", 2, 1, (1, 0), 0), ("turn", 0, 0, 1, (3, 9), (BOX,), 0),
+     ("lay", 2, 2, (0, 4), 0)),
+)
+TURN_TASK = (((0, 1),), ((0,), (0,)), (("mover", 0, (2, 0)), ("thing", 0, 1)))

@@ -7,12 +7,12 @@ import re
 import unittest
 
 FOLDER = os.path.join(os.path.dirname(os.path.dirname(os.path.abspath(__file__))), "sweptfree")
-LIBRARY = {"math": {"gcd", "lcm", "isqrt"}}
+LIBRARY = {"math": {"gcd", "lcm", "isqrt"}, "heapq": {"heappush", "heappop"}}
 BUILTINS = {
     "len", "range", "enumerate", "zip", "min", "max", "sum", "abs", "sorted", "reversed", "int", "str", "bool", "list",
     "tuple", "dict", "set", "isinstance", "ord", "repr", "any", "all", "divmod", "ValueError", "LookupError",
 }
-METHODS = {"append", "extend", "pop", "index", "get", "join", "items", "add", "count", "copy", "insert"}
+METHODS = {"append", "extend", "pop", "index", "get", "join", "items", "values", "add", "count", "copy", "insert", "reverse"}
 BARRED = {
     "register", "mro", "elements", "law", "version_info", "with_traceback", "add_note", "attrgetter", "builtins", "gc",
     "importlib", "methodcaller", "os", "sys",
@@ -52,6 +52,19 @@ INTERFACE = {
     "ways": {"judge_way", "is_clear_way", "is_lean_way", "made_lean"},
     "turns": {"stretch_on", "paces_of", "is_in_turns", "in_turns"},
     "tasks": {"check_task", "mode_behind", "deed_word", "unmet", "mode_numbers", "modes_of"},
+    "nodes": {"task_frame", "node_of", "next_nodes", "is_goal_node"},
+    "plans": {"plan", "judge_plan", "judge_none"},
+    "prices": {"plan_price", "least_price", "least_deeds", "price_without", "cheapest_plan", "price_paper",
+               "judge_price_paper"},
+    "bench": {"touches_on", "Bench"},
+    "desk": {"Desk"},
+    "console": {"Console"},
+}
+CLASSES = {
+    "bench": ("Bench", {"steps", "position", "standing", "touches", "is_quiet"}),
+    "desk": ("Desk", {"scene", "task", "act_word", "do", "undo", "redo", "acts", "plan", "paper", "price", "work", "mark",
+                      "since", "marks", "twin"}),
+    "console": ("Console", {"answer"}),
 }
 
 
@@ -136,7 +149,7 @@ class LanguageTest(unittest.TestCase):
                 del ahead[name]
 
     def test_statements_and_values(self):
-        barred = (ast.AsyncFunctionDef, ast.Global, ast.Lambda, ast.Yield, ast.Try, ast.With, ast.Div, ast.NamedExpr,
+        barred = (ast.AsyncFunctionDef, ast.Global, ast.Lambda, ast.Yield, ast.With, ast.Div, ast.NamedExpr,
                   ast.AnnAssign, ast.Delete, ast.Match)
         for name, tree in self.trees():
             for node in ast.walk(tree):
@@ -150,6 +163,31 @@ class LanguageTest(unittest.TestCase):
                             self.assertIn(ast.unparse(right), ("None", "True", "False"), name)
                 if isinstance(node, ast.arguments):
                     self.assertEqual((node.vararg, node.kwarg, node.kwonlyargs, node.posonlyargs), (None, None, [], []))
+
+    def test_errors_that_are_caught(self):
+        """Own ones alone, by name."""
+        own = own_names(ast.parse(text_of("errors.py")))
+        for name, tree in self.trees():
+            for node in ast.walk(tree):
+                if isinstance(node, ast.Try):
+                    self.assertEqual(node.finalbody, [], name)
+                    for handler in node.handlers:
+                        self.assertIn(handler.type.id, own, name)
+
+    def test_classes(self):
+        """No name is a method and an attribute; the methods of the interface stand in the class itself."""
+        attributes, methods = set(), set()
+        for name, tree in self.trees():
+            for node in ast.walk(tree):
+                if isinstance(node, ast.ClassDef):
+                    methods |= {part.name for part in node.body if isinstance(part, ast.FunctionDef)}
+                if isinstance(node, ast.Attribute) and isinstance(node.ctx, ast.Store):
+                    attributes.add(node.attr)
+        self.assertEqual(attributes & methods, set())
+        for module, (name, told) in CLASSES.items():
+            node = [part for part in ast.parse(text_of(module + ".py")).body
+                    if isinstance(part, ast.ClassDef) and part.name == name][0]
+            self.assertLessEqual(told, {part.name for part in node.body if isinstance(part, ast.FunctionDef)})
 
     def test_names(self):
         for name, tree in self.trees():
@@ -175,11 +213,11 @@ class LanguageTest(unittest.TestCase):
         for name, tree in self.trees():
             known = set(own_names(tree)) | set(BUILTINS)
             known |= {alias.name for node in tree.body if isinstance(node, ast.ImportFrom) for alias in node.names}
-            own_methods = {part.name for node in ast.walk(ast.parse(text_of("reading.py")))
+            own_methods = {part.name for _, other in self.trees() for node in ast.walk(other)
                            if isinstance(node, ast.ClassDef) for part in node.body if isinstance(part, ast.FunctionDef)}
             for node in ast.walk(tree):
                 if isinstance(node, ast.Call) and isinstance(node.func, ast.Name):
-                    self.assertIn(node.func.id, known | {"fault_of", "holds"}, name)
+                    self.assertIn(node.func.id, known | {"fault_of", "holds", "read", "answer_of"}, name)
                 elif isinstance(node, ast.Call):
                     self.assertIn(node.func.attr, METHODS | own_methods, name)
 

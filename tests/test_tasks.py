@@ -209,8 +209,8 @@ def many_modes(many, turns=0):
     faces = tuple((SQUARE,) for _ in range(turns + 1))
     deeds = [("grip", 0, 0, 0, (0, 0), (0, 1), 0)]
     deeds.extend(("lay", 0, n, (2 * n, 0), 0) for n in range(1, many))
-    deeds.extend(("turn", 1, n, n + 1, (0, 0), (SQUARE,), 0) for n in range(turns))
-    return (((0, 99),), (("m", ((SQUARE,),), (0, 1), (0, 0)), ("n", faces, (0, -1), (0, 0))), (),
+    deeds.extend(("turn", 1, n, n + 1, (-50, 0), (SQUARE,), 0) for n in range(turns))
+    return (((0, 99),), (("m", ((SQUARE,),), (0, 1), (0, 0)), ("n", faces, (-50, 0), (0, 0))), (),
             (("t", (SQUARE,), tuple((2 * n, 1) for n in range(many))),), (), tuple(deeds))
 
 

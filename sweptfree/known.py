@@ -1,0 +1,49 @@
+"""Contacts and bars of one scene's modes, each worked out once as long as one question is asked."""
+
+from sweptfree.bars import ascending, contacts_between, room_bars
+from sweptfree.places import looked_at
+
+
+class Known:
+    """What is known of the contacts of a scene: of bodies that lie, are held and are turned alike in many modes."""
+
+    def __init__(self, scene):
+        self.tree = scene
+        self.pairs = {}
+        self.bars = {}
+        self.contacts = {}
+
+    def body_contacts(self, mode, one, other):
+        """Return the pair (contacts, bars) of two bodies by their marks."""
+        key = (one, told_in(mode, one), other, told_in(mode, other))
+        if key not in self.pairs:
+            self.pairs[key] = contacts_between(self.tree, mode, one, other)
+        return self.pairs[key]
+
+    def bars_in(self, mode):
+        """Return the ascending list of the bars of a mode."""
+        if mode not in self.bars:
+            bars = []
+            for one, other in looked_at(self.tree, mode):
+                bars.extend(self.body_contacts(mode, one, other)[1])
+            self.bars[mode] = ascending(bars)
+        return self.bars[mode]
+
+    def contacts_by_pairs(self, mode):
+        """Return the list of the pairs of marks that are looked at in a mode, each with its contacts."""
+        if mode not in self.contacts:
+            pairs = looked_at(self.tree, mode)
+            self.contacts[mode] = [((one, other), self.body_contacts(mode, one, other)[0]) for one, other in pairs]
+        return self.contacts[mode]
+
+    def bars_in_room(self, mode, number):
+        """Return the ascending list of the room bars of a deed that fits a mode, [] if it is no turn."""
+        return room_bars(self.tree, mode, number) if self.tree[5][number][0] == "turn" else []
+
+
+def told_in(mode, mark):
+    """Return what a mode tells of the body with a mark."""
+    sort, number = mark
+    if sort == 0:
+        return mode[1][number]
+    return mode[0][number] if sort == 1 else None
