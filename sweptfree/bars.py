@@ -1,17 +1,19 @@
 """Forms of bodies: contacts and bars of two bodies and of modes, forms of limits and places, room bars."""
 
-from sweptfree.forms import is_constant, leading_sign, limit_pairs, lowered, sign_at, value_of
-from sweptfree.pieces import edges_of, turned_about
+from sweptfree.forms import gcd_of, in_parts, is_constant, leading_sign, limit_pairs, sign_at, value_in_parts, value_of
+from sweptfree.pieces import turned_about
 from sweptfree.places import are_joined, fixed, hanging, looked_at, marks_of, moved_on, mover_hanging, shape_of
-from sweptfree.sums import sum_of
+from sweptfree.scenes import added
+from sweptfree.sums import merged, steps_of
 
 
 def made_form(numbers):
     """Return the pair (form, side) of a tuple of integers, those behind the first one not all 0."""
-    form = lowered(numbers)
-    if leading_sign(form) > 0:
-        return (form, 1)
-    return (tuple(-n for n in form), -1)
+    side, divisor = leading_sign(numbers), gcd_of(numbers)
+    if divisor == 1 and side > 0:
+        return (tuple(numbers), side)
+    divisor = side * divisor
+    return (tuple([n // divisor for n in numbers]), side)
 
 
 def form_value(form, standing):
@@ -26,12 +28,20 @@ def form_sign(form, standing):
 
 def bars_at(contact, standing):
     """Return whether a contact bars a standing: whether all its pairs are kept there."""
-    return all(sign_at(form, standing) == side for form, side in contact)
+    point = in_parts(standing)
+    for form, side in contact:
+        if side * value_in_parts(form, point) <= 0:
+            return False
+    return True
 
 
 def apart_at(contact, standing):
     """Return whether a contact is apart at a standing: whether one of its pairs is crossed there."""
-    return any(sign_at(form, standing) == -side for form, side in contact)
+    point = in_parts(standing)
+    for form, side in contact:
+        if side * value_in_parts(form, point) < 0:
+            return True
+    return False
 
 
 def contacts_of(scene, mode):
@@ -82,12 +92,12 @@ def difference(hung, other):
 def shape_contacts(one, other, away):
     """Return the lists of the contacts and of the bars of two shapes, the one being so far away from the other."""
     contacts, bars = [], []
+    starts = [(piece[0], steps_of(piece)) for piece in other]
     for piece in one:
         about = turned_about(piece)
-        for b in other:
-            rows = tellers(sum_of(b, about), away)
-            contact = tuple(ascending([made_form(row) for row in rows if not is_constant(row)]))
-            least = min([row[0] for row in rows if is_constant(row)], default=1)
+        steps = steps_of(about)
+        for start, others in starts:
+            contact, least = contact_within(added(about[0], start), merged(others, steps), away)
             if least >= 0:
                 contacts.append(contact)
             if least > 0:
@@ -95,16 +105,22 @@ def shape_contacts(one, other, away):
     return contacts, bars
 
 
-def tellers(corners, away):
-    """Return the list of the tellers of the edges of a sum with these corners."""
-    return [teller(u, v, away) for u, v in edges_of(corners)]
+def contact_within(corner, steps, away):
+    """Return the contact of two pieces, and the least c0 of its constant edges, or 1.
 
-
-def teller(u, v, away):
-    """Return the numbers that tell on which side of the line from u to v the end of a way is."""
-    x, y = away
-    run, rise = v[0] - u[0], v[1] - u[1]
-    return tuple([run * b - rise * a for a, b in zip(moved_on(x, -u[0]), moved_on(y, -u[1]))])
+    The sum of the one and the other turned about begins at a corner, and has such steps as its edges.
+    """
+    pairs, least = [], 1
+    x, y = corner
+    for run, rise in steps:
+        teller = [run * b - rise * a for a, b in zip(away[0], away[1])]
+        teller[0] += rise * x - run * y
+        if any(teller[1:]):
+            pairs.append(made_form(teller))
+        else:
+            least = min(least, teller[0])
+        x, y = x + run, y + rise
+    return tuple(ascending(pairs)), least
 
 
 def limit_forms(scene):

@@ -1,6 +1,7 @@
 """Cells of frames: their points and dimensions, all of them, and those beside each other."""
 
-from sweptfree.closings import box_closings, closing_of, parted, value_at_corner
+from sweptfree.bodies import all_bodies
+from sweptfree.closings import closing_of
 from sweptfree.forms import limit_pairs, rank
 from sweptfree.fractions import integer_sign, made
 from sweptfree.frames import refuse_too_great
@@ -36,26 +37,7 @@ def underlies(one, other):
 def all_cells(frame):
     """Return the ascending list of all cells of a frame."""
     refuse_too_great(frame)
-    bodies = [((), corners) for corners in box_closings(frame)]
-    for n in range(len(frame[1])):
-        bodies = parted_bodies(frame, bodies, n)
-    return sorted([signs for signs, _ in bodies])
-
-
-def parted_bodies(frame, bodies, n):
-    """Return the list of the pairs (signs, corners) that are left of such when the form n parts them."""
-    form = frame[1][n]
-    known = {}
-    found = []
-    for signs, corners in bodies:
-        for point, _ in corners:
-            if point not in known:
-                known[point] = value_at_corner(form, point)
-        parts = parted(corners, [known[point] for point, _ in corners], n, len(frame[0]))
-        for k, part in enumerate(parts):
-            if part:
-                found.append((signs + (k - 1,), part))
-    return found
+    return [signs for signs, _, _ in all_bodies(frame)]
 
 
 def faces(frame, signs):

@@ -1,13 +1,12 @@
 """Closed lists: lists of free cells that no way through free standings leaves."""
 
 from sweptfree.frames import is_row_of_signs, refuse_too_great
-from sweptfree.rooms import cells_beside, free_cells, reached
+from sweptfree.rooms import free_room, reached
 
 
 def closed_list(frame, contacts, start, goals):
     """Return a closed list for a free cell and a list of rows of signs, or None if one of these is in its part."""
-    refuse_too_great(frame)
-    part = reached(cells_beside(frame, free_cells(frame, contacts)), start)
+    part = reached(free_room(frame, contacts), start)
     if any(goal in part for goal in goals):
         return None
     return sorted(part)
@@ -18,7 +17,7 @@ def judge_closed(frame, contacts, start, goals, value):
     refuse_too_great(frame)
     if not isinstance(value, (list, tuple)) or not all(is_row_of_signs(frame, row) for row in value):
         return ("form",)
-    beside = cells_beside(frame, free_cells(frame, contacts))
+    beside = free_room(frame, contacts)
     told = {}
     for n, row in enumerate(value):
         if row not in beside or row in told:

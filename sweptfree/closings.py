@@ -19,14 +19,6 @@ def closing_of(frame, signs):
     return corners
 
 
-def box_closings(frame):
-    """Return the list of the closings of the box of the limits without its rim, and of all parts of the rim."""
-    closings = [[((1,), 0)]]
-    for low, high in limit_ends(frame):
-        closings = [spread(corners, ends) for corners in closings for ends in ([low], [low, high], [high])]
-    return closings
-
-
 def limit_ends(frame):
     """Return for each slider the list of its low and its high, each with the number of its limit form."""
     limits, forms = frame

@@ -52,6 +52,8 @@ def gcd_of(numbers):
     divisor = 0
     for n in numbers:
         divisor = gcd(divisor, n)
+        if divisor == 1:
+            return 1
     return divisor
 
 
@@ -64,7 +66,7 @@ def leading_sign(numbers):
     """Return the sign of the first number behind c0 that is not 0, or 0 if all are 0."""
     for n in numbers[1:]:
         if n != 0:
-            return integer_sign(n)
+            return 1 if n > 0 else -1
     return 0
 
 

@@ -5,10 +5,10 @@ A node has one number here: that of its mode times how many cells there are, and
 
 from heapq import heappop, heappush
 
-from sweptfree.cells import all_cells, point_in
+from sweptfree.bodies import all_bodies, bodies_beside
+from sweptfree.cells import point_in
 from sweptfree.charts import whole_chart
 from sweptfree.frames import signs_at
-from sweptfree.rooms import cells_beside
 
 
 class Maze:
@@ -16,9 +16,9 @@ class Maze:
 
     def __init__(self, scene, task):
         self.chart = whole_chart(scene, task)
-        self.cells = all_cells(self.chart.frame)
+        joined = bodies_beside(all_bodies(self.chart.frame))
+        self.cells = list(joined)
         self.cell_numbers = {cell: n for n, cell in enumerate(self.cells)}
-        joined = cells_beside(self.chart.frame, self.cells)
         self.beside = [[self.cell_numbers[other] for other in joined[cell]] for cell in self.cells]
         self.start = self.number_of(self.chart.first, signs_at(self.chart.frame, self.chart.start))
         self.free = {}

@@ -68,8 +68,12 @@ def piece_fault(value):
 def all_left_of_edge(corners, k):
     """Return whether all corners but the two ends of edge k, told by their numbers, have the side 1 from it."""
     end = (k + 1) % len(corners)
-    a, b = corners[k], corners[end]
-    return all(cross(a, b, p) > 0 for n, p in enumerate(corners) if n != k and n != end)
+    (x, y), (u, v) = corners[k], corners[end]
+    run, rise = u - x, v - y
+    for n, (p, q) in enumerate(corners):
+        if run * (q - y) <= rise * (p - x) and n != k and n != end:
+            return False
+    return True
 
 
 def is_piece(value):
@@ -132,12 +136,35 @@ def moved(piece, by):
 
 def are_apart(one, other):
     """Return whether two pieces are apart."""
-    return has_parting_edge(one, other) or has_parting_edge(other, one)
+    return is_parted_from(one, other, 1) or is_parted_from(other, one, 1)
 
 
-def has_parting_edge(one, other):
-    """Return whether no corner of the other one is to the left of some edge of the one."""
-    for a, b in edges_of(one):
-        if max(cross(a, b, p) for p in other) <= 0:
+def is_parted_from(corners, others, least):
+    """Return whether from the line of some edge of a piece's corners none of the others is so far to the left.
+
+    least is 1 if they may be on the line, and 0 if they may not; all corners are pairs of integers.
+    """
+    x, y = corners[-1]
+    for u, v in corners:
+        run, rise = u - x, v - y
+        for p, q in others:
+            if run * (q - y) - rise * (p - x) >= least:
+                break
+        else:
             return True
+        x, y = u, v
     return False
+
+
+def box_of(corners):
+    """Return the tuple (least x, greatest x, least y, greatest y) of corners."""
+    across = [x for x, _ in corners]
+    up = [y for _, y in corners]
+    return (min(across), max(across), min(up), max(up))
+
+
+def may_meet(one, other):
+    """Return whether what lies in the one box may have a point inside what lies in the other one, by box_of."""
+    left, right, low, high = one
+    other_left, other_right, other_low, other_high = other
+    return left < other_right and other_left < right and low < other_high and other_low < high

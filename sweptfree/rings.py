@@ -1,8 +1,7 @@
 """Rings: what is wrong with them, where points are, and their cuts into pieces."""
 
 from sweptfree.errors import BadRing
-from sweptfree.fractions import made
-from sweptfree.pieces import are_apart, area_twice, cross, edges_of, from_least, is_piece, is_point
+from sweptfree.pieces import are_apart, area_twice, box_of, cross, edges_of, from_least, is_piece, is_point, may_meet
 from sweptfree.pieces import side_from, signed_area_twice
 
 
@@ -184,33 +183,42 @@ def judge_cut(ring, value):
     """Return None if value, which may be anything, is a cut of a ring, and otherwise its first fault."""
     if not isinstance(value, tuple) or not all(is_piece(piece) for piece in value):
         return ("form",)
+    boxes = [box_of(piece) for piece in value]
+    edges = [(box_of(edge), edge) for edge in edges_of(ring)]
     for n, piece in enumerate(value):
-        if not is_within_ring(ring, piece):
+        if not is_within_ring(ring, edges, piece, boxes[n]):
             return ("piece", n)
-    for m in range(len(value)):
+    for m, piece in enumerate(value):
         for n in range(m + 1, len(value)):
-            if not are_apart(value[m], value[n]):
+            if may_meet(boxes[m], boxes[n]) and not are_apart(piece, value[n]):
                 return ("apart", m, n)
     if sum(area_twice(piece) for piece in value) != ring_area_twice(ring):
         return ("area",)
     return None
 
 
-def is_within_ring(ring, piece):
-    """Return whether no edge of a ring goes into a piece, and its middle is inside the ring."""
-    if any(goes_into(a, b, piece) for a, b in edges_of(ring)):
-        return False
-    many = len(piece)
-    point = (made(sum(x for x, y in piece), many), made(sum(y for x, y in piece), many))
-    return where_in_ring(ring, point) == "inside"
+def is_within_ring(ring, edges, piece, box):
+    """Return whether no edge of a ring goes into a piece, and its middle is inside the ring.
 
-
-def goes_into(a, b, piece):
-    """Return whether the edge from a to b has a point inside a piece.
-
-    It has none exactly if a line keeps them apart, one with the direction of the edge or of one of the piece's.
+    The edges are told with their boxes, so is the piece. An edge goes into it unless a line keeps them apart, one with
+    the direction of the edge or of one of the piece's: so it is looked at as a piece of two corners.
     """
-    sides = [cross(a, b, p) for p in piece]
-    if max(sides) <= 0 or min(sides) >= 0:
-        return False
-    return all(max(cross(p, q, a), cross(p, q, b)) > 0 for p, q in edges_of(piece))
+    for edge_box, edge in edges:
+        if may_meet(edge_box, box) and not are_apart(edge, piece):
+            return False
+    return is_middle_inside(ring, piece)
+
+
+def is_middle_inside(ring, piece):
+    """Return whether the middle of a piece, which is on no edge of a ring, is inside the ring."""
+    many = len(piece)
+    x, y = sum([p for p, _ in piece]), sum([q for _, q in piece])
+    inside = False
+    a, b = ring[-1]
+    for u, v in ring:
+        if (b * many > y) != (v * many > y):
+            left = (u - a) * (y - b * many) - (v - b) * (x - a * many)
+            if (left > 0) == (v > b):
+                inside = not inside
+        a, b = u, v
+    return inside

@@ -3,7 +3,7 @@
 Where many rows are looked at, a contact is told by pairs (n, side), n being the number of a form in the frame.
 """
 
-from sweptfree.cells import all_cells, cofaces_of
+from sweptfree.bodies import all_bodies, bodies_beside
 from sweptfree.frames import refuse_too_great
 
 
@@ -51,32 +51,21 @@ def is_clear(told, signs):
 
 def parts(frame, contacts):
     """Return the list of the parts of the free room, each an ascending tuple of cells, by their first ones."""
-    refuse_too_great(frame)
-    return lots(cells_beside(frame, free_cells(frame, contacts)))
+    return lots(free_room(frame, contacts))
 
 
 def clear_parts(frame, contacts):
     """Return the list of the parts of the clear room, each an ascending tuple of cells, by their first ones."""
     refuse_too_great(frame)
     told = in_numbers(frame, contacts)
-    return lots(cells_beside(frame, [cell for cell in all_cells(frame) if is_clear(told, cell)]))
+    return lots(bodies_beside([body for body in all_bodies(frame) if is_clear(told, body[0])]))
 
 
-def free_cells(frame, contacts):
-    """Return the ascending list of the free cells."""
+def free_room(frame, contacts):
+    """Return a dict that has for each free cell the list of those beside it, or raise TooGreat()."""
+    refuse_too_great(frame)
     told = in_numbers(frame, contacts)
-    return [cell for cell in all_cells(frame) if is_free(told, cell)]
-
-
-def cells_beside(frame, cells):
-    """Return a dict that has for each of these cells the list of those of them that are beside it."""
-    beside = {cell: [] for cell in cells}
-    for cell in cells:
-        for other in cofaces_of(frame, cell):
-            if other in beside:
-                beside[cell].append(other)
-                beside[other].append(cell)
-    return beside
+    return bodies_beside([body for body in all_bodies(frame) if is_free(told, body[0])])
 
 
 def lots(beside):
@@ -109,8 +98,7 @@ def reached(beside, start):
 
 def way_of_cells(frame, contacts, one, other):
     """Return a list of free cells from one to another one, each beside the next one, or None if there is none."""
-    refuse_too_great(frame)
-    ahead = reached(cells_beside(frame, free_cells(frame, contacts)), other)
+    ahead = reached(free_room(frame, contacts), other)
     if one not in ahead:
         return None
     way = [one]

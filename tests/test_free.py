@@ -1,3 +1,4 @@
+import time
 import unittest
 from fractions import Fraction
 
@@ -97,3 +98,23 @@ class FreeTest(unittest.TestCase):
                 seen[found] = seen.get(found, 0) + 1
         for row in ((True, True, True, False), (True, True, False, True), (True, False, False, False)):
             self.assertGreater(seen.get(row, 0), 5, seen)
+
+    def test_many_questions(self):
+        """The four functions, asked 200 times each for a scene of several shapes, in good time."""
+        two, wedge = ((0, 0), (2, 0), (2, 2), (0, 2)), ((0, 0), (3, 0), (0, 2))
+        scene = (
+            ((0, 9), (0, 6), (-2, 5)),
+            (("a", ((two, wedge),), (0, 1, 0, 0), (0, 0, 1, 0)), ("b", ((two,), (wedge,)), (3, 0, 0, 1), (1, 1, 0, 0)),
+             ("c", ((wedge, two),), (0, 0, 1, 1), (5, 0, 0, 0))),
+            (two, ((6, 0), (8, 0), (8, 3), (6, 3)), ((4, 4), (7, 4), (5, 6))),
+            (("t", (two,), ((9, 9), (3, 5))), ("u", (wedge, two), ((0, 7),))), (), ())
+        mode, standing = ((0, 0), (0, 0, 0)), ((7, 3), (5, 2), (1, 2))
+        meets = [((0, 0), (0, 1)), ((0, 0), (2, 0)), ((0, 1), (0, 2)), ((0, 1), (2, 0)), ((0, 2), (2, 0))]
+        self.assertEqual(self.check(scene, mode, standing), (True, False, False, True))
+        before = time.process_time()
+        for _ in range(200):
+            self.assertIs(free.is_free(scene, mode, standing), False)
+            self.assertIs(free.is_clear(scene, mode, standing), False)
+            self.assertEqual(free.meeting(scene, mode, standing), meets)
+            self.assertEqual(free.touching(scene, mode, standing), [((0, 2), (1, 1))])
+        self.assertLess(time.process_time() - before, 0.5)

@@ -12,7 +12,8 @@ BUILTINS = {
     "len", "range", "enumerate", "zip", "min", "max", "sum", "abs", "sorted", "reversed", "int", "str", "bool", "list",
     "tuple", "dict", "set", "isinstance", "ord", "repr", "any", "all", "divmod", "ValueError", "LookupError",
 }
-METHODS = {"append", "extend", "pop", "index", "get", "join", "items", "values", "add", "count", "copy", "insert", "reverse"}
+METHODS = {"append", "extend", "pop", "index", "get", "join", "items", "values", "add", "count", "copy", "insert", "reverse",
+           "bit_length", "setdefault"}
 BARRED = {
     "register", "mro", "elements", "law", "version_info", "with_traceback", "add_note", "attrgetter", "builtins", "gc",
     "importlib", "methodcaller", "os", "sys",

@@ -1,3 +1,4 @@
+import time
 import unittest
 from fractions import Fraction
 
@@ -337,3 +338,16 @@ class CutTest(unittest.TestCase):
         row = tuple(((k, 0), (k + 1, 0), (k + 1, 1), (k, 1)) for k in range(width))
         self.assertIsNone(rings.judge_cut(ring, row))
         self.assertEqual(rings.judge_cut(ring, row[:-1] + row[-2:-1]), ("apart", 58, 59))
+
+    def test_many_judged(self):
+        """What triangles tells for a ring of twelve points, whole, twice over and cut short, in good time."""
+        ring = ((0, 0), (10, 1), (20, 0), (19, 9), (22, 20), (11, 18), (1, 21), (3, 12), (5, 10), (2, 5), (4, 4), (1, 2))
+        pieces = rings.triangles(ring)
+        self.assertEqual(len(pieces), 10)
+        before = time.process_time()
+        for _ in range(100):
+            self.assertIsNone(rings.judge_cut(ring, pieces))
+            self.assertEqual(rings.judge_cut(ring, pieces + pieces[::-1]), ("apart", 0, 19))
+            self.assertEqual(rings.judge_cut(ring, pieces + pieces), ("apart", 0, 10))
+            self.assertEqual(rings.judge_cut(ring, pieces[:-1]), ("area",))
+        self.assertLess(time.process_time() - before, 1)

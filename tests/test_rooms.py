@@ -1,3 +1,4 @@
+import time
 import unittest
 from itertools import product
 
@@ -203,3 +204,31 @@ class TooGreatTest(unittest.TestCase):
         row = helper.slow_signs(frame, (5,))
         self.assertIs(rooms.free_row(frame, [((frame[1][3], 1),)], row), row[3] != 1)
         self.assertIs(rooms.clear_row(frame, [()], row), False)
+
+
+class ManyQuestionsTest(unittest.TestCase):
+
+    def test_parts_and_ways(self):
+        """All cells, the parts, and ways within a part, asked 50 times each, in good time."""
+        frame = (((0, 4), (0, 4)), ((-7, 2, 3), (-5, 3, -2), (-4, 0, 1), (-4, 1, 0), (-3, 1, 1), (0, 0, 1), (0, 1, 0),
+                                    (1, 1, -1)))
+        contacts = [(((-7, 2, 3), 1), ((-5, 3, -2), 1)), (((-3, 1, 1), -1), ((1, 1, -1), 1)),
+                    (((-7, 2, 3), -1), ((1, 1, -1), -1))]
+        cells = helper.slow_cells(frame)
+        self.assertEqual(len(cells), 53)
+        free = [cell for cell in cells if not any(helper.slow_bars(frame, contact, cell) for contact in contacts)]
+        clear = [cell for cell in cells if all(helper.slow_apart(frame, contact, cell) for contact in contacts)]
+        whole, whole_clear = helper.slow_lots(frame, free), helper.slow_lots(frame, clear)
+        beside = helper.slow_beside(frame, free)
+        before = time.process_time()
+        for k in range(50):
+            self.assertEqual(all_cells(frame), cells)
+            self.assertEqual(rooms.parts(frame, contacts), whole)
+            self.assertEqual(rooms.clear_parts(frame, contacts), whole_clear)
+            part = whole[k % len(whole)]
+            one, other = part[k % len(part)], part[-1 - k % 7]
+            way = rooms.way_of_cells(frame, contacts, one, other)
+            self.assertEqual((way[0], way[-1]), (one, other))
+            for a, b in zip(way, way[1:]):
+                self.assertIn(b, beside[a][0] + beside[a][1])
+        self.assertLess(time.process_time() - before, 1)
