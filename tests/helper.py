@@ -529,13 +529,22 @@ def laid(shape, place):
 
 def slow_body_relation(some, others):
     """How two lists of laid pieces are to each other: by the areas they share, then by corners on edges."""
-    if any(common_area(a, b) for a in some for b in others):
+    near = [(a, b) for a in some for b in others if not are_far(a, b)]
+    if any(common_area(a, b) for a, b in near):
         return "meet"
-    for a in some:
-        for b in others:
-            if any(place_in(b, *p) != "outside" for p in a) or any(place_in(a, *p) != "outside" for p in b):
-                return "touch"
+    for a, b in near:
+        if any(place_in(b, *p) != "outside" for p in a) or any(place_in(a, *p) != "outside" for p in b):
+            return "touch"
     return "clear"
+
+
+def are_far(some, others):
+    """Whether all corners of the one are farther left, right, up or down than all of the other."""
+    for k in (0, 1):
+        one, other = [p[k] for p in some], [p[k] for p in others]
+        if max(one) < min(other) or max(other) < min(one):
+            return True
+    return False
 
 
 def numbers_of(standing):
@@ -998,6 +1007,7 @@ class SlowNodes:
         self.modes = sorted(slow_modes(scene, task[1]), key=lambda mode: self.numbers(mode))
         self.order = {mode: k for k, mode in enumerate(self.modes)}
         self.free = {}
+        self.known = {}
         self.start = (task[1], slow_signs(self.frame, numbers_of(task[0])))
 
     def numbers(self, mode):
@@ -1014,16 +1024,25 @@ class SlowNodes:
         """The list of the moves (node, price, deed) from a node."""
         mode, cell = node
         found = [((mode, other), 0, None) for lot in self.beside[cell] for other in lot if self.is_node((mode, other))]
-        for n in range(len(self.scene[5])):
-            if slow_deed_word(self.scene, mode, self.points[cell], n) is None:
-                found.append(((slow_mode_behind(self.scene, mode, n), cell), self.scene[5][n][-1], n))
+        for n, deed in enumerate(self.scene[5]):
+            behind = slow_mode_behind(self.scene, mode, n)
+            if behind is not None and self.can_do(node, (behind, cell), deed):
+                found.append(((behind, cell), deed[-1], n))
         return found
+
+    def can_do(self, node, behind, deed):
+        """Whether a deed that fits can be done at a node."""
+        standing = self.points[node[1]]
+        mover, place = (self.scene[5][deed[1]][1], deed[3]) if deed[0] == "lay" else (deed[1], deed[4])
+        if not slow_stands(self.scene, mover, place, standing) or not self.is_node(node) or not self.is_node(behind):
+            return False
+        return deed[0] != "turn" or slow_room_is_empty(self.scene, node[0], standing, deed)
 
     def sort(self, nodes):
         return sorted(nodes, key=lambda node: (self.order[node[0]], node[1]))
 
     def next_to(self, node):
-        return self.sort({other for other, _, _ in self.moves(node)})
+        return self.sort({other for other, _, _ in self.moves_once(node)})
 
     def is_goal(self, node):
         mode, cell = node
@@ -1048,8 +1067,6 @@ class SlowNodes:
         return least
 
     def moves_once(self, node):
-        if not hasattr(self, "known"):
-            self.known = {}
         if node not in self.known:
             self.known[node] = self.moves(node)
         return self.known[node]

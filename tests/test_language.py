@@ -211,11 +211,11 @@ class LanguageTest(unittest.TestCase):
                 self.assertIsNone(re.search(r"\b" + word + r"\b", text_of(name)), (name, word))
 
     def test_calls(self):
+        own_methods = {part.name for _, other in self.trees() for node in ast.walk(other)
+                       if isinstance(node, ast.ClassDef) for part in node.body if isinstance(part, ast.FunctionDef)}
         for name, tree in self.trees():
             known = set(own_names(tree)) | set(BUILTINS)
             known |= {alias.name for node in tree.body if isinstance(node, ast.ImportFrom) for alias in node.names}
-            own_methods = {part.name for _, other in self.trees() for node in ast.walk(other)
-                           if isinstance(node, ast.ClassDef) for part in node.body if isinstance(part, ast.FunctionDef)}
             for node in ast.walk(tree):
                 if isinstance(node, ast.Call) and isinstance(node.func, ast.Name):
                     self.assertIn(node.func.id, known | {"fault_of", "holds", "read", "answer_of"}, name)

@@ -110,7 +110,7 @@ class PlanTest(unittest.TestCase):
 
     def test_many_tasks(self):
         words = {}
-        for scene, task in helper.rail_tasks(311, 24) + helper.rail_tasks(312, 4, 2):
+        for scene, task in helper.rail_tasks(311, 60) + helper.rail_tasks(312, 8, 2):
             word, told = self.check(scene, task)
             deeds = [step for step in told if step[0] == "deed"] if word == "plan" else None
             kind = (word, deeds is not None and len(deeds) > 1)
@@ -261,7 +261,7 @@ class JudgeNoneTest(unittest.TestCase):
     def test_as_the_second_opinion(self):
         numbers = Numbers(331)
         seen = {}
-        for scene, task in helper.rail_tasks(332, 16):
+        for scene, task in helper.rail_tasks(332, 40):
             slow = helper.SlowNodes(scene, task)
             reached = slow.least()
             nodes = slow.sort([(mode, cell) for mode in slow.modes for cell in slow.cells])
