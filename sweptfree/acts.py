@@ -21,7 +21,7 @@ def word_against(scene, task, act):
     if act[0] == "task":
         return None if task_fault(scene, act[1]) is None else "task"
     if act[0] == "wall":
-        return word_against_wall(scene, task, act[1])
+        return word_against_piece(scene, task, act[1])
     if act[0] == "unwall":
         return None if is_number_of(scene[2], act[1]) else "number"
     if not is_number_of(scene[5], act[1]):
@@ -36,13 +36,13 @@ def is_act(value):
     return value[0] in MEMBERS and len(value) == MEMBERS[value[0]]
 
 
-def word_against_wall(scene, task, piece):
+def word_against_piece(scene, task, piece):
     """Return the word with which a piece cannot be put behind the walls of a scene, or None."""
     if not is_piece(piece):
         return "piece"
     if len(scene[2]) >= MOST_WALLS:
         return "many"
-    if task is not None and not is_free(with_walls(scene, scene[2] + (piece,)), task[1], task[0]):
+    if task is not None and not is_free(with_pieces(scene, scene[2] + (piece,)), task[1], task[0]):
         return "start"
     return None
 
@@ -54,13 +54,13 @@ def behind_act(scene, task, act):
     if act[0] == "task":
         return (scene, act[1])
     if act[0] == "wall":
-        return (with_walls(scene, scene[2] + (act[1],)), task)
+        return (with_pieces(scene, scene[2] + (act[1],)), task)
     if act[0] == "unwall":
-        return (with_walls(scene, scene[2][:act[1]] + scene[2][act[1] + 1:]), task)
+        return (with_pieces(scene, scene[2][:act[1]] + scene[2][act[1] + 1:]), task)
     return (with_price(scene, act[1], act[2]), task)
 
 
-def with_walls(scene, walls):
+def with_pieces(scene, walls):
     """Return a scene with other walls."""
     return scene[:2] + (walls,) + scene[3:]
 

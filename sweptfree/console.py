@@ -48,18 +48,18 @@ def read_task_act(reader):
     return ("task", read_task_form(reader))
 
 
-def read_wall(reader):
+def read_piece_act(reader):
     reader.skip("wall")
     piece = read_piece(reader)
     reader.skip(";")
     return ("wall", piece)
 
 
-def read_unwall(reader):
+def read_number_act(reader):
     return ("unwall", read_number(reader))
 
 
-def read_price(reader):
+def read_price_act(reader):
     number = reader.take_number_behind("price")
     price = reader.take_numeral()
     reader.skip(";")
@@ -89,9 +89,9 @@ def read_number(reader):
 
 
 READERS = {
-    "scene": read_scene_act, "task": read_task_act, "wall": read_wall, "unwall": read_unwall, "price": read_price,
-    "undo": read_word, "redo": read_word, "mark": read_mark, "since": read_mark, "plan": read_word,
-    "cheapest": read_word, "step": read_number, "touch": read_number, "walls": read_word,
+    "scene": read_scene_act, "task": read_task_act, "wall": read_piece_act, "unwall": read_number_act,
+    "price": read_price_act, "undo": read_word, "redo": read_word, "mark": read_mark, "since": read_mark,
+    "plan": read_word, "cheapest": read_word, "step": read_number, "touch": read_number, "walls": read_word,
 }
 
 
@@ -160,7 +160,7 @@ def answer_touch(desk, number):
     return str(len(Bench(desk.scene(), desk.task(), steps).touches(number)))
 
 
-def answer_walls(desk, _):
+def answer_pieces(desk, _):
     scene = desk.scene()
     return "no none" if scene is None else str(len(scene[2]))
 
@@ -168,5 +168,5 @@ def answer_walls(desk, _):
 ANSWERS = {
     "scene": answer_act, "task": answer_act, "wall": answer_act, "unwall": answer_act, "price": answer_act,
     "undo": answer_undo, "redo": answer_redo, "mark": answer_mark, "since": answer_since, "plan": answer_plan,
-    "cheapest": answer_cheapest, "step": answer_step, "touch": answer_touch, "walls": answer_walls,
+    "cheapest": answer_cheapest, "step": answer_step, "touch": answer_touch, "walls": answer_pieces,
 }

@@ -209,6 +209,7 @@ class LanguageTest(unittest.TestCase):
         for name in files():
             for word in WORDS_BARRED:
                 self.assertIsNone(re.search(r"\b" + word + r"\b", text_of(name)), (name, word))
+            self.assertNotIn("_wall", text_of(name), name)
 
     def test_calls(self):
         own_methods = {part.name for _, other in self.trees() for node in ast.walk(other)
