@@ -18,25 +18,23 @@ class Chart:
     """
 
     def __init__(self, scene, task):
-        self.start, _, self.goals = task
-        self.modes = modes_of(scene, task[1])
+        self.start, first, self.goals = task
+        self.modes = modes_of(scene, first)
         self.mode_numbers = {mode: k for k, mode in enumerate(self.modes)}
-        self.first = self.mode_numbers[task[1]]
+        self.first = self.mode_numbers[first]
         known = Known(scene)
         bars = [known.bars_in(mode) for mode in self.modes]
-        fits = [fitting(scene, mode) for mode in self.modes]
-        rooms = [[known.bars_in_room(mode, n) for n, _ in row] for mode, row in zip(self.modes, fits)]
-        places = deed_places(scene, sorted(set([n for row in fits for n, _ in row])))
+        moves = [moves_in(scene, known, mode) for mode in self.modes]
         aims = [goal_forms(scene, goal) for goal in self.goals]
-        self.frame = frame_of(scene[0], all_forms(bars, rooms, list(places.values()) + aims))
+        self.frame = frame_of(scene[0], all_forms(bars, moves, aims))
         self.bars = [in_numbers(self.frame, row) for row in bars]
+        self.moves = [self.told_in_numbers(row) for row in moves]
         self.aims = [in_form_numbers(self.frame, forms) for forms in aims]
-        zeros = {n: in_form_numbers(self.frame, places[n]) for n in places}
-        self.moves = []
-        for row, barred in zip(fits, rooms):
-            moves = [(n, self.mode_numbers[behind], zeros[n], in_numbers(self.frame, room))
-                     for (n, behind), room in zip(row, barred)]
-            self.moves.append([move for move in moves if move[2] is not None])
+
+    def told_in_numbers(self, moves):
+        """Return the moves of a mode in numbers, those left out whose mover never stands at its place."""
+        return [(n, self.mode_numbers[behind], in_form_numbers(self.frame, place), in_numbers(self.frame, room))
+                for n, behind, place, room in moves if place is not None]
 
     def is_node(self, k, signs):
         """Return whether a cell is free in the mode with a number."""
@@ -78,19 +76,15 @@ def whole_chart(scene, task):
     return chart
 
 
-def fitting(scene, mode):
-    """Return the list of the pairs (number, mode behind) of all deeds that fit a mode."""
-    pairs = [(number, mode_behind(scene, mode, number)) for number in range(len(scene[5]))]
-    return [(number, behind) for number, behind in pairs if behind is not None]
-
-
-def deed_places(scene, numbers):
-    """Return a dict of the place forms of each of these deeds, None where its mover can never stand there."""
-    places = {}
-    for number in numbers:
-        mover, place = mover_and_place(scene, number)
-        places[number] = place_forms(scene, mover, place)
-    return places
+def moves_in(scene, known, mode):
+    """Return the list of the tuples (deed, mode behind, place forms, room bars) of all deeds that fit a mode."""
+    moves = []
+    for n in range(len(scene[5])):
+        behind = mode_behind(scene, mode, n)
+        if behind is not None:
+            mover, place = mover_and_place(scene, n)
+            moves.append((n, behind, place_forms(scene, mover, place), known.bars_in_room(mode, n)))
+    return moves
 
 
 def goal_forms(scene, goal):
@@ -99,11 +93,15 @@ def goal_forms(scene, goal):
     return place_forms(scene, number, aim) if word == "mover" else []
 
 
-def all_forms(bars, rooms, places):
-    """Return the list of all forms that there are, those of the limits left out."""
-    lists = bars + [room for row in rooms for room in row]
-    forms = [form for row in lists for form in forms_in(row)]
-    return forms + [form for row in places if row is not None for form in row]
+def all_forms(bars, moves, aims):
+    """Return the list of all forms of the bars and moves of modes, and of aims; there are none where None stands."""
+    forms = [form for row in bars for form in forms_in(row)]
+    for _, _, place, room in [move for row in moves for move in row]:
+        forms.extend(forms_in(room))
+        forms.extend(place or [])
+    for aim in aims:
+        forms.extend(aim or [])
+    return forms
 
 
 def in_form_numbers(frame, forms):

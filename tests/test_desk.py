@@ -1,3 +1,4 @@
+import copy
 import unittest
 
 from sweptfree import plans, prices
@@ -278,6 +279,16 @@ class QuestionsTest(unittest.TestCase):
             for question in (desk.plan, desk.paper, desk.price, desk.plan):
                 self.assertRaises(TooGreat, question)
             self.assertEqual((desk.work(), desk.task()), ((0, 0), task))
+
+    def test_acts_stay_as_they_are(self):
+        acts = [("scene", Z_SCENE), ("task", Z_TASK), ("wall", WALL), ("unwall", 0), ("price", 1, 4), ["odd"], {"a": [1]}]
+        before = copy.deepcopy(acts)
+        desk = Desk()
+        for act in acts:
+            desk.act_word(act)
+            outcome(desk.do, act)
+        self.assertEqual(acts, before)
+        self.assertEqual(desk.acts(), before[:5])
 
     def test_what_is_returned_is_new(self):
         desk = desk_with(("scene", Z_SCENE))
