@@ -144,13 +144,23 @@ def place_forms(scene, mover, point):
 
 def room_bars(scene, mode, number):
     """Return the ascending list of the room bars, each once, of the turn deed with a number."""
-    _, m, _, _, place, room, _ = scene[5][number]
     bars = []
-    for mark in marks_of(scene, mode):
-        if counts_in_room(scene, m, mark):
-            away = difference(fixed(scene, place), hanging(scene, mode, mark))
-            bars.extend(shape_contacts(room, shape_of(scene, mode, mark), away)[1])
+    for mark in marks_in_room(scene, mode, number):
+        bars.extend(bars_of_room(scene, mode, number, mark))
     return ascending(bars)
+
+
+def marks_in_room(scene, mode, number):
+    """Return the list of the marks of the bodies that may not be in the room of a turn."""
+    mover = scene[5][number][1]
+    return [mark for mark in marks_of(scene, mode) if counts_in_room(scene, mover, mark)]
+
+
+def bars_of_room(scene, mode, number, mark):
+    """Return the list of the bars of the room of a turn and of a body."""
+    _, _, _, _, place, room, _ = scene[5][number]
+    away = difference(fixed(scene, place), hanging(scene, mode, mark))
+    return shape_contacts(room, shape_of(scene, mode, mark), away)[1]
 
 
 def counts_in_room(scene, mover, mark):

@@ -8,7 +8,7 @@ from sweptfree.cells import cofaces, faces
 from sweptfree.frames import frame_of, refuse_too_great
 from sweptfree.known import Known
 from sweptfree.rooms import in_numbers, is_free
-from sweptfree.tasks import mode_behind, modes_of, mover_and_place
+from sweptfree.tasks import modes_and_deeds
 
 
 class Chart:
@@ -19,12 +19,13 @@ class Chart:
 
     def __init__(self, scene, task):
         self.start, first, self.goals = task
-        self.modes = modes_of(scene, first)
+        rows = modes_and_deeds(scene, first)
+        self.modes = [mode for mode, _ in rows]
         self.mode_numbers = {mode: k for k, mode in enumerate(self.modes)}
         self.first = self.mode_numbers[first]
         known = Known(scene)
         bars = [known.bars_in(mode) for mode in self.modes]
-        moves = [moves_in(scene, known, mode) for mode in self.modes]
+        moves = [moves_in(known, mode, deeds) for mode, deeds in rows]
         aims = [goal_forms(scene, goal) for goal in self.goals]
         self.frame = frame_of(scene[0], all_forms(bars, moves, aims))
         self.bars = [in_numbers(self.frame, row) for row in bars]
@@ -76,15 +77,9 @@ def whole_chart(scene, task):
     return chart
 
 
-def moves_in(scene, known, mode):
-    """Return the list of the tuples (deed, mode behind, place forms, room bars) of all deeds that fit a mode."""
-    moves = []
-    for n in range(len(scene[5])):
-        behind = mode_behind(scene, mode, n)
-        if behind is not None:
-            mover, place = mover_and_place(scene, n)
-            moves.append((n, behind, place_forms(scene, mover, place), known.bars_in_room(mode, n)))
-    return moves
+def moves_in(known, mode, deeds):
+    """Return the list of the tuples (deed, mode behind, place forms, room bars) of the deeds that fit a mode."""
+    return [(n, behind, known.place_of_deed(n), known.bars_in_room(mode, n)) for n, behind in deeds]
 
 
 def goal_forms(scene, goal):

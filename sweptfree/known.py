@@ -1,7 +1,8 @@
 """Contacts and bars of one scene's modes, each worked out once as long as one question is asked."""
 
-from sweptfree.bars import ascending, contacts_between, room_bars
+from sweptfree.bars import ascending, bars_of_room, contacts_between, marks_in_room, place_forms
 from sweptfree.places import looked_at
+from sweptfree.tasks import mover_and_place
 
 
 class Known:
@@ -12,6 +13,8 @@ class Known:
         self.pairs = {}
         self.bars = {}
         self.contacts = {}
+        self.rooms = {}
+        self.places = {}
 
     def body_contacts(self, mode, one, other):
         """Return the pair (contacts, bars) of two bodies by their marks."""
@@ -38,7 +41,22 @@ class Known:
 
     def bars_in_room(self, mode, number):
         """Return the ascending list of the room bars of a deed that fits a mode, [] if it is no turn."""
-        return room_bars(self.tree, mode, number) if self.tree[5][number][0] == "turn" else []
+        if self.tree[5][number][0] != "turn":
+            return []
+        bars = []
+        for mark in marks_in_room(self.tree, mode, number):
+            key = (number, mark, told_in(mode, mark))
+            if key not in self.rooms:
+                self.rooms[key] = bars_of_room(self.tree, mode, number, mark)
+            bars.extend(self.rooms[key])
+        return ascending(bars)
+
+    def place_of_deed(self, number):
+        """Return the place forms of a deed, or None if its mover can never stand at its place."""
+        if number not in self.places:
+            mover, place = mover_and_place(self.tree, number)
+            self.places[number] = place_forms(self.tree, mover, place)
+        return self.places[number]
 
 
 def told_in(mode, mark):

@@ -150,16 +150,26 @@ def mode_numbers(scene, mode):
 
 def modes_of(scene, mode):
     """Return the ascending list of the modes of a task with this mode, or raise TooGreat()."""
-    modes = [mode]
-    numbers = {mode_numbers(scene, mode): 0}
-    at = 0
-    while at < len(modes):
-        for number in range(len(scene[5])):
-            behind = mode_behind(scene, modes[at], number)
-            if behind is not None and mode_numbers(scene, behind) not in numbers:
-                numbers[mode_numbers(scene, behind)] = len(modes)
-                modes.append(behind)
-        if len(modes) > MOST_MODES:
+    return [one for one, _ in modes_and_deeds(scene, mode)]
+
+
+def modes_and_deeds(scene, mode):
+    """Return the list of the modes of a task, each with the list of the pairs (deed, mode behind) of what fits it."""
+    found = {}
+    left = [mode]
+    while left:
+        one = left.pop()
+        numbers = mode_numbers(scene, one)
+        if numbers not in found:
+            pairs = fitting(scene, one)
+            found[numbers] = (one, pairs)
+            left.extend([behind for _, behind in pairs])
+        if len(found) > MOST_MODES:
             raise TooGreat()
-        at += 1
-    return [modes[numbers[row]] for row in sorted(numbers)]
+    return [found[numbers] for numbers in sorted(found)]
+
+
+def fitting(scene, mode):
+    """Return the list of the pairs (number, mode behind) of all deeds that fit a mode."""
+    pairs = [(number, mode_behind(scene, mode, number)) for number in range(len(scene[5]))]
+    return [(number, behind) for number, behind in pairs if behind is not None]
