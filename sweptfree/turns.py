@@ -1,8 +1,9 @@
 """Ways in turns, on which one slider after another moves."""
 
 from sweptfree.errors import TooGreat
-from sweptfree.fractions import floor_of, less, minus, over, plus, times, whole
-from sweptfree.legs import slack_on, standing_at
+from sweptfree.forms import in_parts
+from sweptfree.fractions import floor_of, made, over, whole
+from sweptfree.legs import slack_between, standing_at
 from sweptfree.ways import legs_of
 
 MOST_PACES = 400
@@ -10,30 +11,27 @@ MOST_PACES = 400
 
 def stretch_on(contact, q, r):
     """Return the stretch of a contact on a leg, a fraction, nought for ()."""
-    steps = [size_of(minus(y, x)) for x, y in zip(q, r)]
-    greatest = (0, 1)
+    return stretch_between(contact, in_parts(q), in_parts(r))
+
+
+def stretch_between(contact, start, end):
+    """Return the stretch of a contact on a leg between two standings in parts."""
+    steps = [abs(y * start[0] - x * end[0]) for x, y in zip(start[1:], end[1:])]
+    greatest = 0
     for form, _ in contact:
-        stretch = (0, 1)
-        for n, step in zip(form[1:], steps):
-            stretch = plus(stretch, times(whole(abs(n)), step))
-        if less(greatest, stretch):
-            greatest = stretch
-    return greatest
-
-
-def size_of(x):
-    """Return a fraction without its sign."""
-    return (abs(x[0]), x[1])
+        greatest = max(greatest, sum([abs(n) * step for n, step in zip(form[1:], steps)]))
+    return made(greatest, start[0] * end[0])
 
 
 def paces_of(contacts, q, r):
     """Return the paces of a clear leg, a number."""
-    return max([paces_for(contact, q, r) for contact in contacts], default=1)
+    start, end = in_parts(q), in_parts(r)
+    return max([paces_for(contact, start, end) for contact in contacts], default=1)
 
 
-def paces_for(contact, q, r):
-    """Return the least number of at least 1 by which the slack on a leg comes above the stretch."""
-    return floor_of(over(stretch_on(contact, q, r), slack_on(contact, q, r))) + 1
+def paces_for(contact, start, end):
+    """Return the least number of at least 1 that makes the slack on a leg greater than the stretch."""
+    return floor_of(over(stretch_between(contact, start, end), slack_between(contact, start, end))) + 1
 
 
 def is_in_turns(way):
