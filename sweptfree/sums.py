@@ -27,14 +27,17 @@ def merged(some, others):
     steps = []
     i, j = 0, 0
     while i < len(some) and j < len(others):
-        turn = some[i][0] * others[j][1] - some[i][1] * others[j][0]
+        (x, y), (u, v) = some[i], others[j]
+        turn = x * v - y * u
         if turn > 0:
-            steps.append(some[i])
+            steps.append((x, y))
+            i += 1
         elif turn < 0:
-            steps.append(others[j])
+            steps.append((u, v))
+            j += 1
         else:
-            steps.append((some[i][0] + others[j][0], some[i][1] + others[j][1]))
-        i, j = i + (1 if turn >= 0 else 0), j + (1 if turn <= 0 else 0)
+            steps.append((x + u, y + v))
+            i, j = i + 1, j + 1
     return steps + some[i:] + others[j:]
 
 
