@@ -1,19 +1,13 @@
 """Forms of bodies: contacts and bars of two bodies and of modes, forms of limits and places, room bars."""
 
-from sweptfree.forms import gcd_of, in_parts, is_constant, leading_sign, limit_pairs, sign_at, value_in_parts, value_of
-from sweptfree.pieces import turned_about
-from sweptfree.places import are_joined, fixed, hanging, looked_at, marks_of, moved_on, mover_hanging, shape_of
-from sweptfree.scenes import added
-from sweptfree.sums import merged, steps_of
+from sweptfree.forms import in_parts, is_constant, limit_pairs, sign_at, value_in_parts, value_of
+from sweptfree.outlines import body_outline, outline_contacts, outline_of, pair_of
+from sweptfree.places import are_joined, fixed, looked_at, marks_of, moved_on, mover_hanging
 
 
 def made_form(numbers):
     """Return the pair (form, side) of a tuple of integers, those behind the first one not all 0."""
-    side, divisor = leading_sign(numbers), gcd_of(numbers)
-    if divisor == 1 and side > 0:
-        return (tuple(numbers), side)
-    divisor = side * divisor
-    return (tuple([n // divisor for n in numbers]), side)
+    return pair_of(numbers[0], numbers[1:])
 
 
 def form_value(form, standing):
@@ -56,7 +50,7 @@ def bars_of(scene, mode):
 
 def contacts_between(scene, mode, one, other):
     """Return the pair (contacts, bars) of ascending lists for two bodies by their marks, the one less."""
-    contacts, bars = body_contacts(scene, mode, one, other)
+    contacts, bars = outline_contacts(body_outline(scene, mode, one), body_outline(scene, mode, other))
     return (ascending(contacts), ascending(bars))
 
 
@@ -67,60 +61,13 @@ def ascending(values):
 
 def mode_contacts(scene, mode):
     """Return the lists of the contacts and of the bars of all bodies that are looked at in a mode."""
+    outlines = {mark: body_outline(scene, mode, mark) for mark in marks_of(scene, mode)}
     contacts, bars = [], []
     for one, other in looked_at(scene, mode):
-        some, some_bars = body_contacts(scene, mode, one, other)
+        some, some_bars = outline_contacts(outlines[one], outlines[other])
         contacts.extend(some)
         bars.extend(some_bars)
     return contacts, bars
-
-
-def body_contacts(scene, mode, one, other):
-    """Return the lists of the contacts and of the bars of two bodies."""
-    away = difference(hanging(scene, mode, one), hanging(scene, mode, other))
-    return shape_contacts(shape_of(scene, mode, one), shape_of(scene, mode, other), away)
-
-
-def difference(hung, other):
-    """Return how the way from one place to another, hung as told, comes of a standing."""
-    (across, up), (other_across, other_up) = hung, other
-    x = tuple([a - b for a, b in zip(across, other_across)])
-    y = tuple([a - b for a, b in zip(up, other_up)])
-    return (x, y)
-
-
-def shape_contacts(one, other, away):
-    """Return the lists of the contacts and of the bars of two shapes, the one being so far away from the other."""
-    contacts, bars = [], []
-    starts = [(piece[0], steps_of(piece)) for piece in other]
-    for piece in one:
-        about = turned_about(piece)
-        steps = steps_of(about)
-        for start, others in starts:
-            contact, least = contact_within(added(about[0], start), merged(others, steps), away)
-            if least >= 0:
-                contacts.append(contact)
-            if least > 0:
-                bars.append(contact)
-    return contacts, bars
-
-
-def contact_within(corner, steps, away):
-    """Return the contact of two pieces, and the least c0 of its constant edges, or 1.
-
-    The sum of the one and the other turned about begins at a corner, and has such steps as its edges.
-    """
-    pairs, least = [], 1
-    x, y = corner
-    for run, rise in steps:
-        teller = [run * b - rise * a for a, b in zip(away[0], away[1])]
-        teller[0] += rise * x - run * y
-        if any(teller[1:]):
-            pairs.append(made_form(teller))
-        else:
-            least = min(least, teller[0])
-        x, y = x + run, y + rise
-    return tuple(ascending(pairs)), least
 
 
 def limit_forms(scene):
@@ -144,23 +91,23 @@ def place_forms(scene, mover, point):
 
 def room_bars(scene, mode, number):
     """Return the ascending list of the room bars, each once, of the turn deed with a number."""
+    room = room_outline(scene, number)
     bars = []
     for mark in marks_in_room(scene, mode, number):
-        bars.extend(bars_of_room(scene, mode, number, mark))
+        bars.extend(outline_contacts(room, body_outline(scene, mode, mark))[1])
     return ascending(bars)
+
+
+def room_outline(scene, number):
+    """Return the outline of the room of a turn deed, laid at its place."""
+    _, _, _, _, place, room, _ = scene[5][number]
+    return outline_of(room, fixed(scene, place))
 
 
 def marks_in_room(scene, mode, number):
     """Return the list of the marks of the bodies that may not be in the room of a turn."""
     mover = scene[5][number][1]
     return [mark for mark in marks_of(scene, mode) if counts_in_room(scene, mover, mark)]
-
-
-def bars_of_room(scene, mode, number, mark):
-    """Return the list of the bars of the room of a turn and of a body."""
-    _, _, _, _, place, room, _ = scene[5][number]
-    away = difference(fixed(scene, place), hanging(scene, mode, mark))
-    return shape_contacts(room, shape_of(scene, mode, mark), away)[1]
 
 
 def counts_in_room(scene, mover, mark):

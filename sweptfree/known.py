@@ -1,6 +1,7 @@
 """Contacts and bars of one scene's modes, each worked out once as long as one question is asked."""
 
-from sweptfree.bars import ascending, bars_of_room, contacts_between, marks_in_room, place_forms
+from sweptfree.bars import ascending, marks_in_room, place_forms, room_outline
+from sweptfree.outlines import body_outline, outline_contacts
 from sweptfree.places import looked_at
 from sweptfree.tasks import mover_and_place
 
@@ -10,17 +11,24 @@ class Known:
 
     def __init__(self, scene):
         self.tree = scene
+        self.outlines = {}
         self.pairs = {}
         self.bars = {}
         self.contacts = {}
-        self.rooms = {}
         self.places = {}
 
+    def outline(self, mode, mark):
+        """Return the outline of a body as it is in a mode."""
+        key = (mark, told_in(mode, mark))
+        if key not in self.outlines:
+            self.outlines[key] = body_outline(self.tree, mode, mark)
+        return self.outlines[key]
+
     def body_contacts(self, mode, one, other):
-        """Return the pair (contacts, bars) of two bodies by their marks."""
+        """Return the pair (contacts, bars) of lists for two bodies by their marks."""
         key = (one, told_in(mode, one), other, told_in(mode, other))
         if key not in self.pairs:
-            self.pairs[key] = contacts_between(self.tree, mode, one, other)
+            self.pairs[key] = outline_contacts(self.outline(mode, one), self.outline(mode, other))
         return self.pairs[key]
 
     def bars_in(self, mode):
@@ -46,9 +54,9 @@ class Known:
         bars = []
         for mark in marks_in_room(self.tree, mode, number):
             key = (number, mark, told_in(mode, mark))
-            if key not in self.rooms:
-                self.rooms[key] = bars_of_room(self.tree, mode, number, mark)
-            bars.extend(self.rooms[key])
+            if key not in self.pairs:
+                self.pairs[key] = outline_contacts(room_outline(self.tree, number), self.outline(mode, mark))
+            bars.extend(self.pairs[key][1])
         return ascending(bars)
 
     def place_of_deed(self, number):

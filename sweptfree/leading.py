@@ -1,6 +1,6 @@
 """How a piece that is led is to another piece, and at which moment they meet."""
 
-from sweptfree.fractions import is_fraction, is_fraction_pair, less, middle, minus, over, plus, times, whole
+from sweptfree.fractions import is_fraction, is_fraction_pair, less, middle, over, plus, times, whole
 from sweptfree.meeting import is_common_point, paper_of, relation, value_from
 from sweptfree.pieces import edges_of, turned_about
 from sweptfree.sums import sum_of, swept

@@ -138,6 +138,12 @@ class LanguageTest(unittest.TestCase):
                                  if isinstance(part, ast.Name) and isinstance(part.ctx, ast.Store)]
                         self.assertIn(alias.name, own_names(ast.parse(text_of(module + ".py"))) + bound)
 
+    def test_imports_are_used(self):
+        for name, tree in self.trees():
+            read = {node.id for node in ast.walk(tree) if isinstance(node, ast.Name)}
+            told = {alias.name for node in tree.body if isinstance(node, ast.ImportFrom) for alias in node.names}
+            self.assertLessEqual(told, read, name)
+
     def test_no_ring_of_imports(self):
         ahead = {}
         for name, tree in self.trees():
