@@ -7,14 +7,14 @@ from sweptfree.bars import forms_in, place_forms
 from sweptfree.cells import cofaces, faces
 from sweptfree.frames import frame_of, refuse_too_great
 from sweptfree.known import Known
-from sweptfree.rooms import in_numbers, is_free
+from sweptfree.rooms import contacts_in_numbers, is_free
 from sweptfree.tasks import modes_and_deeds
 
 
 class Chart:
-    """The chart of a task; its moves are, for each mode, tuples (deed, mode behind, forms that are 0, room bars).
+    """The chart of a task; its moves are, for each mode, tuples (deed, mode behind, place forms, room bars).
 
-    Deeds whose mover never stands at their place are left out, and such a goal of a mover has None for its forms.
+    Place forms are None where a mover can never stand. What a mode has in numbers is worked out when it is asked for.
     """
 
     def __init__(self, scene, task):
@@ -24,28 +24,38 @@ class Chart:
         self.mode_numbers = {mode: k for k, mode in enumerate(self.modes)}
         self.first = self.mode_numbers[first]
         known = Known(scene)
-        bars = [known.bars_in(mode) for mode in self.modes]
-        moves = [moves_in(known, mode, deeds) for mode, deeds in rows]
-        aims = [goal_forms(scene, goal) for goal in self.goals]
-        self.frame = frame_of(scene[0], all_forms(bars, moves, aims))
-        self.bars = [in_numbers(self.frame, row) for row in bars]
-        self.moves = [self.told_in_numbers(row) for row in moves]
-        self.aims = [in_form_numbers(self.frame, forms) for forms in aims]
+        self.bars = [known.bars_in(mode) for mode in self.modes]
+        self.moves = [moves_in(known, mode, deeds) for mode, deeds in rows]
+        self.aims = [goal_forms(scene, goal) for goal in self.goals]
+        self.frame = frame_of(scene[0], all_forms(self.bars, self.moves, self.aims))
+        self.form_numbers = {form: n for n, form in enumerate(self.frame[1])}
+        self.told_bars = {}
+        self.told_moves = {}
 
-    def told_in_numbers(self, moves):
-        """Return the moves of a mode in numbers, those left out whose mover never stands at its place."""
-        return [(n, self.mode_numbers[behind], in_form_numbers(self.frame, place), in_numbers(self.frame, room))
-                for n, behind, place, room in moves if place is not None]
+    def bars_in_numbers(self, k):
+        """Return the bars of the mode with a number, each a list of pairs (number of a form, side)."""
+        if k not in self.told_bars:
+            self.told_bars[k] = contacts_in_numbers(self.form_numbers, self.bars[k])
+        return self.told_bars[k]
+
+    def moves_in_numbers(self, k):
+        """Return the moves of the mode with a number in numbers, those left out whose mover can never stand there."""
+        if k not in self.told_moves:
+            self.told_moves[k] = [
+                (n, self.mode_numbers[behind], [self.form_numbers[form] for form in place],
+                 contacts_in_numbers(self.form_numbers, room))
+                for n, behind, place, room in self.moves[k] if place is not None]
+        return self.told_moves[k]
 
     def is_node(self, k, signs):
         """Return whether a cell is free in the mode with a number."""
-        return is_free(self.bars[k], signs)
+        return is_free(self.bars_in_numbers(k), signs)
 
     def deeds_from(self, k, signs):
         """Return the list of the pairs (deed, number of the mode behind) of what can be done at a node."""
         found = []
-        for n, behind, zeros, room in self.moves[k]:
-            if are_nought(zeros, signs) and is_free(self.bars[behind], signs) and is_free(room, signs):
+        for n, behind, zeros, room in self.moves_in_numbers(k):
+            if are_nought(zeros, signs) and self.is_node(behind, signs) and is_free(room, signs):
                 found.append((n, behind))
         return found
 
@@ -67,7 +77,10 @@ class Chart:
 
     def has_movers_placed(self, signs):
         """Return whether all goals of movers are met in a cell."""
-        return all(are_nought(zeros, signs) for zeros in self.aims)
+        for forms in self.aims:
+            if forms is None or not are_nought([self.form_numbers[form] for form in forms], signs):
+                return False
+        return True
 
 
 def whole_chart(scene, task):
@@ -99,11 +112,6 @@ def all_forms(bars, moves, aims):
     return forms
 
 
-def in_form_numbers(frame, forms):
-    """Return the list of the numbers of forms in a frame, or None for None."""
-    return None if forms is None else [frame[1].index(form) for form in forms]
-
-
 def are_nought(zeros, signs):
-    """Return whether forms, by their numbers, are 0 in a row of signs; None is told where they cannot be."""
-    return zeros is not None and all(signs[n] == 0 for n in zeros)
+    """Return whether forms, by their numbers, are 0 in a row of signs."""
+    return all(signs[n] == 0 for n in zeros)

@@ -51,11 +51,13 @@ class Known:
         """Return the ascending list of the room bars of a deed that fits a mode, [] if it is no turn."""
         if self.tree[5][number][0] != "turn":
             return []
+        if number not in self.outlines:
+            self.outlines[number] = room_outline(self.tree, number)
         bars = []
         for mark in marks_in_room(self.tree, mode, number):
             key = (number, mark, told_in(mode, mark))
             if key not in self.pairs:
-                self.pairs[key] = outline_contacts(room_outline(self.tree, number), self.outline(mode, mark))
+                self.pairs[key] = outline_contacts(self.outlines[number], self.outline(mode, mark))
             bars.extend(self.pairs[key][1])
         return ascending(bars)
 

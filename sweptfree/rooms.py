@@ -29,7 +29,11 @@ def clear_row(frame, contacts, signs):
 
 def in_numbers(frame, contacts):
     """Return the list of the contacts, each as a list of pairs (n, side)."""
-    numbers = {form: n for n, form in enumerate(frame[1])}
+    return contacts_in_numbers({form: n for n, form in enumerate(frame[1])}, contacts)
+
+
+def contacts_in_numbers(numbers, contacts):
+    """Return the list of the contacts in numbers, a dict telling the number of each form."""
     return [[(numbers[form], side) for form, side in contact] for contact in contacts]
 
 
